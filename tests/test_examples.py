@@ -1,0 +1,57 @@
+"""Every example of the document, as written: tests/examples.txt keeps them by section."""
+
+import importlib
+import os
+import unittest
+
+from farseen import errors
+
+EXAMPLES = os.path.join(os.path.dirname(__file__), "examples.txt")
+
+
+def read_examples():
+    """Triples of a section, a row of code and what it shows."""
+    found, section = [], None
+    with open(EXAMPLES, encoding="ascii") as file:
+        for line in file.read().splitlines():
+            if line.startswith("## "):
+                section = line[3:]
+            elif line.startswith(">>> "):
+                found.append((section, line[4:], []))
+            else:
+                found[-1][2].append(line)
+    return found
+
+
+def names_of_errors():
+    return {name: value for name, value in vars(errors).items() if isinstance(value, type)}
+
+
+class ExamplesTest(unittest.TestCase):
+
+    def check_raised(self, code, told, names):
+        right = eval(told, names_of_errors())
+        with self.assertRaises(errors.SeenError) as caught:
+            exec(code, names)
+        self.assertIs(type(caught.exception), type(right))
+        self.assertEqual(vars(caught.exception), vars(right))
+
+    def test_examples(self):
+        examples = read_examples()
+        self.assertEqual(len(examples), 20)
+        names = {}
+        for section in dict.fromkeys(section for section, _, _ in examples):
+            module = importlib.import_module("farseen." + section)
+            names.update({name: value for name, value in vars(module).items() if not name.startswith("_")})
+        for section, code, shown in examples:
+            with self.subTest(section=section, code=code):
+                if not shown:
+                    exec(code, names)
+                elif shown[0].startswith("raises "):
+                    self.check_raised(code, shown[0][7:], names)
+                else:
+                    self.assertEqual(repr(eval(code, names)), "\n".join(shown))
+
+
+if __name__ == "__main__":
+    unittest.main()

@@ -1,0 +1,120 @@
+"""Papers and denials, and all classes of them."""
+
+import importlib
+import unittest
+
+from farseen.papers import Denial, Paper, fixed
+from tests.helpers import Odd, odd_values
+
+PAPERS = {
+    "tables": {"Rank": ["many", "rows", "columns"]},
+    "charts": {"Squares": ["terms"], "Rest": ["ratio", "row"]},
+}
+DENIALS = {
+    "charts": {"Below": ["row"], "NoRest": ["pins"]},
+}
+
+
+def classes_of(table):
+    for module, told in table.items():
+        for name, fields in told.items():
+            yield getattr(importlib.import_module("farseen." + module), name), name, fields
+
+
+class FixedTest(unittest.TestCase):
+
+    def test_lists_become_tuples(self):
+        for value, right in (([], ()), ((), ()), ([1, [2, (3, [4])]], (1, (2, (3, (4,))))), ([[[]]], (((),),)),
+                             (({"a": [1]},), ({"a": [1]},)), ("ab", "ab"), (None, None)):
+            self.assertEqual(fixed(value), right)
+            self.assertIs(type(fixed(value)), type(right))
+
+    def test_others_stay(self):
+        for value in odd_values():
+            if not isinstance(value, (list, tuple)):
+                self.assertIs(fixed(value), value)
+                self.assertIs(fixed([value])[0], value)
+
+    def test_deep(self):
+        value, right = 0, 0
+        for _ in range(30):
+            value, right = [value, "x"], (right, "x")
+        self.assertEqual(fixed(value), right)
+
+
+class PaperTest(unittest.TestCase):
+
+    def test_truth(self):
+        self.assertIs(bool(Paper("no")), True)
+        self.assertIs(bool(Denial("no")), False)
+        self.assertIs(bool(Denial("no", 1, [2])), False)
+        self.assertTrue(issubclass(Denial, Paper))
+
+    def test_parts(self):
+        rows = [1, [2, 3]]
+        paper = Paper("note", rows, "a")
+        rows[1].append(4)
+        self.assertEqual((paper.word, paper.parts), ("note", ((1, (2, 3)), "a")))
+        self.assertEqual(Paper("note").parts, ())
+        self.assertEqual(Denial("no", [1]).parts, ((1,),))
+        self.assertEqual(Denial("no", [1]).word, "no")
+        self.assertEqual(Paper(word="note").word, "note")
+
+    def test_equal(self):
+        self.assertTrue(Paper("a", [1, 2]) == Paper("a", (1, 2)))
+        self.assertTrue(Paper("a", 1) == Paper("a", True))
+        self.assertTrue(Denial("a") == Denial("a"))
+        for one, other in ((Paper("a"), Paper("b")), (Paper("a"), Denial("a")), (Denial("a"), Paper("a")),
+                           (Paper("a", 1), Paper("a", 2)), (Paper("a", 1), Paper("a")), (Paper("a", 1), Paper("a", 1, 1)),
+                           (Denial("a", 1), Denial("a", 2)), (Denial("a"), Denial("b"))):
+            self.assertIs(one == other, False)
+            self.assertIs(one != other, True)
+        for value in odd_values():
+            self.assertIs(Paper("a") == value, False)
+            self.assertIs(Denial("a") == value, False)
+
+    def test_equality_is_defined_in_both(self):
+        self.assertIn("__eq__", vars(Paper))
+        self.assertIn("__eq__", vars(Denial))
+
+
+class ClassesTest(unittest.TestCase):
+
+    def check_class(self, made, name, fields, truth):
+        self.assertEqual(made.__name__, name)
+        self.assertTrue(issubclass(made, Paper))
+        self.assertEqual(issubclass(made, Denial), not truth)
+        values = [[Odd(), [at]] for at in range(len(fields))]
+        right = tuple((value[0], (at,)) for at, value in enumerate(values))
+        for paper in (made(*values), made(**dict(zip(fields, values)))):
+            self.assertEqual((paper.word, paper.parts, bool(paper)), (name.lower(), right, truth))
+            self.assertEqual([getattr(paper, field) for field in fields], list(right))
+        for value in odd_values():
+            paper = made(*[value for _ in fields])
+            self.assertTrue(all(repr(getattr(paper, field)) == repr(fixed(value)) for field in fields))
+        self.assertEqual(made(*range(len(fields))), made(*range(len(fields))))
+        self.assertNotEqual(made(*values), Paper(name.lower(), *values))
+        self.assertNotEqual(made(*values), Denial(name.lower(), *values))
+        for at in range(len(fields)):
+            other = list(values)
+            other[at] = None
+            self.assertNotEqual(made(*values), made(*other))
+
+    def test_papers(self):
+        for made, name, fields in classes_of(PAPERS):
+            self.check_class(made, name, fields, True)
+
+    def test_denials(self):
+        for made, name, fields in classes_of(DENIALS):
+            self.check_class(made, name, fields, False)
+
+    def test_classes_differ(self):
+        told = list(classes_of(PAPERS)) + list(classes_of(DENIALS))
+        for made, name, fields in told:
+            for other, its_name, its_fields in told:
+                if name != its_name and len(fields) == len(its_fields):
+                    self.assertNotEqual(made(*fields), other(*fields))
+
+
+if __name__ == "__main__":
+    unittest.main()
