@@ -10,7 +10,7 @@ from math import gcd
 
 from farseen.albums import Album
 from farseen.errors import BadText, SeenError
-from farseen.papers import Denial, Paper
+from farseen.papers import Denial, Paper, fixed
 from farseen.pictures import Picture
 
 LIMIT = 10 ** 9
@@ -212,3 +212,108 @@ def primitive_of(values):
 def chance(seed):
     """Numbers that look random and are always the same."""
     return random.Random(seed)
+
+
+def is_strictly(value, its):
+    """Whether both are equal with all kinds, also those within tuples."""
+    if type(value) is not type(its):
+        return False
+    if isinstance(value, tuple):
+        return len(value) == len(its) and all(map(is_strictly, value, its))
+    return value == its
+
+
+def bent_values(value):
+    """Values that are like this one, but for one thing anywhere in it."""
+    for other in odd_values():
+        if not is_strictly(fixed(other), value):
+            yield other
+    if isinstance(value, tuple):
+        for at, item in enumerate(value):
+            yield value[:at] + value[at + 1:]
+            yield value[:at] + (item,) + value[at:]
+            for bent in bent_values(item):
+                yield value[:at] + (bent,) + value[at + 1:]
+        yield value + (0,)
+        yield value + (None,)
+        yield value[::-1]
+    elif isinstance(value, int) and not isinstance(value, bool):
+        yield from (number for number in (value + 1, value - 1, -value, 2 * value) if number != value)
+        yield from (float(value), str(value), (value,), [value], Fraction(value))
+        if value in (0, 1):
+            yield bool(value)
+
+
+def bent_parts(parts):
+    """The parts of a paper with one thing changed."""
+    for at, part in enumerate(parts):
+        for bent in bent_values(part):
+            if not is_strictly(fixed(bent), part):
+                yield parts[:at] + (bent,) + parts[at + 1:]
+
+
+def fakes(paper):
+    """Papers with the same word and parts, but not made by calling the same class."""
+    class Under(type(paper)):
+        pass
+    made = [Paper(paper.word, *paper.parts), Denial(paper.word, *paper.parts), Under(*paper.parts)]
+    return made + [paper.parts, paper.word, type(paper), str(paper)]
+
+
+def one_is(paper, right):
+    """Whether the paper is of the class of the right one, with strictly its parts."""
+    return type(paper) is type(right) and is_strictly(paper.parts, right.parts)
+
+
+class ShowsCase(Case):
+    """For functions `shows_..`, called with a value alone."""
+
+    def shows(self, call, paper):
+        """The paper is right, with lists for tuples too, and no fake of it is."""
+        self.assertIs(call(paper), True, (paper.word, paper.parts))
+        self.assertIs(call(type(paper)(*[with_lists(part) for part in paper.parts])), True)
+        for fake in fakes(paper):
+            self.assertIs(call(fake), False)
+
+    def shows_not(self, call, paper):
+        self.assertIs(call(paper), False, (paper.word, paper.parts))
+
+    def shows_no_bent(self, call, paper, is_right=None):
+        """The paper is right; with one thing changed it is not, but where is_right of its parts tells so."""
+        self.shows(call, paper)
+        for parts in bent_parts(paper.parts):
+            bent = type(paper)(*parts)
+            right = is_right is not None and is_right(bent.parts)
+            self.assertIs(call(bent), right, (paper.word, parts))
+
+    def shows_nothing_else(self, call, classes, right=()):
+        """No odd value, and no paper of odd parts but those told, is right or raises anything."""
+        for value in odd_values():
+            self.assertIs(call(value), False, value)
+            for made, many in classes:
+                if many:
+                    paper = made(*[value] * many)
+                    self.assertIs(call(paper), any(one_is(paper, one) for one in right), (made, value))
+
+
+def with_lists(value):
+    """Lists in the place of tuples."""
+    return [with_lists(item) for item in value] if isinstance(value, tuple) else value
+
+
+def are_plain(value):
+    """Whether there are integers alone in the tuples within."""
+    if isinstance(value, tuple):
+        return all(are_plain(item) for item in value)
+    return type(value) is int
+
+
+def is_plain_ratio(value):
+    """Whether it is a ratio, told as a tuple."""
+    return (isinstance(value, tuple) and len(value) == 2 and all(type(item) is int for item in value)
+            and value[1] > 0 and gcd(*value) == 1)
+
+
+def is_plain_row(value, size):
+    """Whether it is a tuple of so many integers."""
+    return isinstance(value, tuple) and len(value) == size and all(type(item) is int for item in value)

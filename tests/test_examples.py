@@ -38,7 +38,7 @@ class ExamplesTest(unittest.TestCase):
 
     def test_examples(self):
         examples = read_examples()
-        self.assertEqual(len(examples), 20)
+        self.assertEqual(len(examples), 45)
         names = {}
         for section in dict.fromkeys(section for section, _, _ in examples):
             module = importlib.import_module("farseen." + section)

@@ -9,9 +9,21 @@ from tests.helpers import Odd, odd_values
 PAPERS = {
     "tables": {"Rank": ["many", "rows", "columns"]},
     "charts": {"Squares": ["terms"], "Rest": ["ratio", "row"]},
+    "kin": {"Kin": ["hand", "turn"]},
+    "traysettled": {"TrayFree": [], "TrayStretch": ["one", "other"], "TrayOne": ["chart"]},
+    "steady": {"Steady": ["double", "again"], "SteadyOpen": []},
+    "axes": {"Axis": ["mine", "its"]},
 }
 DENIALS = {
     "charts": {"Below": ["row"], "NoRest": ["pins"]},
+    "kin": {"NotKin": ["pin", "its"]},
+    "traysettled": {
+        "TrayThin": ["number"], "TrayUnlike": ["one", "other"], "TrayApart": ["one", "other", "third", "pins"],
+        "TrayNoTriangle": ["one", "other", "third", "x", "y"], "TrayMisfit": ["one", "other", "third", "fourth", "square"]},
+    "steady": {"Unsteady": ["number"]},
+    "axes": {
+        "SamePlane": ["hand"], "Thin": ["number", "row"], "Apart": ["one", "other", "pins"],
+        "Unalike": ["one", "other", "pin", "its"], "Unequal": ["one", "other", "mine", "its"]},
 }
 
 

@@ -1,0 +1,33 @@
+"""What check functions ask of a paper: who made it, and whether its parts are the right ones."""
+
+from farseen.checks import is_integer
+from farseen.papers import Paper
+
+
+def is_made(value):
+    """Whether it is a paper made by calling its class, and not one below this."""
+    if not isinstance(value, Paper) or not hasattr(value, "parts"):
+        return False
+    return value.__class__.__name__.lower() == value.word
+
+
+def is_same(value, right):
+    """Whether it tells the integers, tuples and Nones of right; True and False are no integers."""
+    if isinstance(right, tuple):
+        if not isinstance(value, tuple) or len(value) != len(right):
+            return False
+        return all([is_same(mine, its) for mine, its in zip(value, right)])
+    if right is None:
+        return value is None
+    return is_integer(value) and value == right
+
+
+def is_lot(value, size, least, most):
+    """Whether it is an ascending tuple of so many unlike integers from least to most."""
+    if not isinstance(value, tuple) or len(value) != size:
+        return False
+    if not all([is_integer(item) for item in value]):
+        return False
+    if any([value[k] >= value[k + 1] for k in range(size - 1)]):
+        return False
+    return least <= value[0] and value[size - 1] <= most
