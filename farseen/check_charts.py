@@ -77,9 +77,7 @@ def _is_rest(left, by, parts):
 
 
 def _are_amiss(left, pins):
-    if not isinstance(pins, tuple) or not are_integers(pins):
-        return False
-    if not all([1 <= pin <= len(left) for pin in pins]):
+    if not are_integers(pins) or not all([1 <= pin <= len(left) for pin in pins]):
         return False
     if len(pins) == 0:
         return not any([number != 0 for row in left for number in row])

@@ -1,6 +1,6 @@
 """Whether papers on trays are right."""
 
-from farseen.charts import Chart, Rest, flat, rest
+from farseen.charts import Chart, Rest, rest
 from farseen.checks import is_ratio, is_within
 from farseen.edges import are_multiples, c_by, is_thin, is_triangle, product_at, ways_to
 from farseen.exact import is_lot, is_made, is_same
@@ -54,12 +54,13 @@ def _is_stretch(rows, lot):
 
 def _is_one(tray, chart):
     """Each row must be one of the chart; with three that are not kin no other chart can be."""
-    if not isinstance(chart, Chart) or chart.pins != tray.pins or not flat(chart):
+    if not isinstance(chart, Chart) or chart.pins != tray.pins:
         return False
     return len(tray.kin_rows()) > 2 and all([_is_of(chart, row) for row in tray.rows])
 
 
 def _is_of(chart, row):
+    """Whether the chart, without the row, tells depths; such a chart is flat by itself."""
     left = rest(chart, [row])
     return isinstance(left, Rest) and not are_multiples(left.row, row)
 
@@ -100,8 +101,9 @@ def _is_misfit(rows, lot, square):
     if not _is_lot_of(rows, lot) or not is_ratio(square) or square == (1, 1):
         return False
     third, fourth = _ways_in(rows, lot[:3]), _ways_in(rows, lot)
-    if third is None or fourth is None or third[0][0] == 0 or third[1][0] == 0:
+    if third is None or fourth is None:
         return False
+    # With x or y 0 there is no triangle either.
     return is_triangle(third) and square == product_at(c_by(third), fourth, fourth)
 
 

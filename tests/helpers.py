@@ -22,6 +22,8 @@ SQUARE = [(0, 0), (3, 0), (0, 3), (0, 0)]
 class Odd:
     """A value that is nothing the program knows."""
 
+    parts = ()
+
 
 def odd_values():
     """Values of every kind, made anew; none of them is a list or a tuple of anything but what they show."""
@@ -256,7 +258,12 @@ def fakes(paper):
     """Papers with the same word and parts, but not made by calling the same class."""
     class Under(type(paper)):
         pass
-    made = [Paper(paper.word, *paper.parts), Denial(paper.word, *paper.parts), Under(*paper.parts)]
+
+    class Other(Paper):
+        pass
+    twin = type(type(paper).__name__, (Denial if isinstance(paper, Denial) else Paper,), {})
+    made = [Paper(paper.word, *paper.parts), Denial(paper.word, *paper.parts), Under(*paper.parts),
+            Other("other", *paper.parts), twin(paper.word, *paper.parts), type(paper).__new__(type(paper))]
     return made + [paper.parts, paper.word, type(paper), str(paper)]
 
 

@@ -65,6 +65,7 @@ def possible_papers(tray, right):
     found += [TrayThin(at) for at in numbers]
     for lot in itertools.product(numbers, repeat=2):
         found += [TrayStretch(*lot), TrayUnlike(*lot)]
+    found += wrong_reasons(tray.rows)
     for paper in right:
         if paper.word in ("trayapart", "traynotriangle"):
             one, other, third = paper.parts[:3]
@@ -75,6 +76,21 @@ def possible_papers(tray, right):
         if paper.word == "traymisfit":
             found += [TrayMisfit(*lot, paper.square) for lot in itertools.permutations(paper.parts[:4])]
             found.append(TrayMisfit(*paper.parts[:4], (1, 1)))
+    return found
+
+
+def wrong_reasons(rows):
+    """Of each three and four rows the papers that would be right if sides or squares were so."""
+    found = []
+    for lot in itertools.combinations(range(len(rows)), 3):
+        one, other, third = [rows[at] for at in lot]
+        told = (Fraction(1), Fraction(1)) if are_multiples(one, other) else ways(one, other, third) or (Fraction(1), Fraction(1, 2))
+        found.append(TrayNoTriangle(*lot, ratio(told[0]), ratio(told[1])))
+        found.append(TrayNoTriangle(*lot, ratio(4 * told[0]), ratio(told[1])))
+        c = c_between(*told) if 0 not in told else Fraction(1, 2)
+        for at in range(lot[2] + 1, len(rows)):
+            x, y = (3, 4) if are_multiples(one, other) else ways(one, other, rows[at]) or (3, 4)
+            found += [TrayMisfit(*lot, at, ratio(x * x + y * y + 2 * x * y * c)), TrayMisfit(*lot, at, ratio(x * x + y * y))]
     return found
 
 
@@ -127,6 +143,9 @@ class ShowsTrayTest(ShowsCase):
             self.shows_not(lambda value: shows_tray(tray, value), TrayMisfit(0, 1, 2, 3, (1, 1)))
         for fourth in ([0, 4, 0], [0, -4, -4], [0, 0, 4]):
             self.shows_not(lambda value: shows_tray(Tray(rows + [fourth]), value), TrayMisfit(0, 1, 2, 3, (1, 1)))
+        apart = Tray([[0, 4, 0, 0], [0, 0, 4, 0], [0, 4, 4, 0], [0, 0, 0, 1]])
+        for square in ((0, 1), (4, 1), (1, 1)):
+            self.shows_not(lambda value: shows_tray(apart, value), TrayMisfit(0, 1, 2, 3, square))
         flat = Tray([[0, 2, 0], [0, 0, 2], [0, 1, 1], [0, 1, 0]])
         self.shows_not(lambda value: shows_tray(flat, value), TrayMisfit(0, 1, 2, 3, (1, 4)))
 
@@ -139,6 +158,7 @@ class ShowsTrayTest(ShowsCase):
         self.assertIs(shows_tray(Tray([[0, 1, 0, 0], [0, 0, 1, 0], [0, 0, 0, 1]]), TrayOne(solid)), False)
         self.assertIs(shows_tray(Tray([[0, 1, 0]] * 3), TrayOne(Chart([[1, 0], [0, 1]]))), False)
         self.assertIs(shows_tray(Tray([[0, 1, 0]] * 3), TrayOne(Chart([[2, 0], [0, 0]]))), False)
+        self.assertIs(shows_tray(Tray([[0, 1, 0], [0, 2, 0], [0, 3, 0]]), TrayOne(Chart([[16, 0], [0, 0]]))), False)
 
     def test_greatest(self):
         dice = chance(81)

@@ -81,6 +81,10 @@ class PaperTest(unittest.TestCase):
                            (Denial("a", 1), Denial("a", 2)), (Denial("a"), Denial("b"))):
             self.assertIs(one == other, False)
             self.assertIs(one != other, True)
+        class Foreign:
+            word, parts = "a", ()
+        Foreign.__name__ = "Paper"
+        self.assertIs(Paper("a") == Foreign(), False)
         for value in odd_values():
             self.assertIs(Paper("a") == value, False)
             self.assertIs(Denial("a") == value, False)
