@@ -10,7 +10,7 @@ def check_integer(value, part):
         raise BadNumber(part)
 
 
-def _outside(values, many):
+def _first_wrong(values, many):
     """A tuple of the first that is no number below many, () if none is.
 
     If the values are no list, they themselves are what is wrong.
@@ -36,7 +36,7 @@ def check_pin(value, many):
 
 def check_pins(values, many):
     """Raise NoPin or Twice unless the values are unlike pins of so many."""
-    wrong = _outside(values, many)
+    wrong = _first_wrong(values, many)
     if wrong:
         raise NoPin(wrong[0])
     _check_unlike(values)
@@ -65,7 +65,7 @@ def check_picture_number(value, many):
 
 def check_picture_numbers(values, many):
     """Raise NoPicture or Twice unless the values are unlike numbers of so many pictures or rows."""
-    wrong = _outside(values, many)
+    wrong = _first_wrong(values, many)
     if wrong:
         raise NoPicture(wrong[0])
     _check_unlike(values)

@@ -104,7 +104,7 @@ def _reason_of_four(rows, lot):
 
 
 def _have_kin(rows, lot):
-    return any([are_kin(rows[a], rows[b]) for a, b in combinations(lot, 2)])
+    return any([are_kin(rows[lot[a]], rows[lot[b]]) for b in range(len(lot)) for a in range(b)])
 
 
 def _reason(rows, lot):

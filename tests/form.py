@@ -25,6 +25,8 @@ BARRED_WORDS = set(
     "register mro elements open input law version_info with_traceback add_note attrgetter breakpoint builtins compile "
     "copyright credits delattr dir eval exec exit gc getattr globals help id importlib license locals methodcaller os "
     "quit setattr type vars sys typing enum Enum Generic Protocol ABC namedtuple NamedTuple TypedDict dataclass".split())
+BARRED_NAMES = (r"_(wall|pe_|dcw_|enum_|cm_|twin_re_|lay_|law_|stub_|sre|WallAttr).*"
+                r"|_(cold|tuplegetter|outside|record|written_out|member_names)[0-9_]*")
 LIBRARY = {"math": {"gcd", "lcm"}, "itertools": {"combinations", "permutations"}}
 ON_THE_SPOT = {"zip", "enumerate", "reversed", "range"}
 TAKERS = {"list", "tuple", "dict", "sorted", "sum", "any", "all", "enumerate", "zip", "min", "max", "len", "reversed"}
@@ -61,6 +63,9 @@ class Reader:
 
     def read_lines(self):
         lines = self.text.split("\n")
+        for word in re.findall(r"\w+", self.text):
+            if re.fullmatch(BARRED_NAMES, word):
+                self.faults.append((self.name, "L12", 0, word))
         if len(lines) - 1 > 399:
             self.faults.append((self.name, "L10", len(lines), "file"))
         for number, line in enumerate(lines, 1):

@@ -1,0 +1,84 @@
+"""Every name of the interface: where it is defined, and what its arguments are called."""
+
+import importlib
+import inspect
+import unittest
+
+FUNCTIONS = {
+    "checks": ["is_integer(value)", "is_within(value, least, most)", "is_name(value)", "are_integers(value)", "is_ratio(value)",
+               "is_primitive(value)", "first_twice(values)", "common_divisor(values)", "primitive(values)", "lowest(number, by)"],
+    "papers": ["fixed(value)"],
+    "ratios": ["plus(one, other)", "minus(one, other)", "times(one, other)", "over(one, other)", "compared(one, other)"],
+    "tables": ["determinant(rows)", "rank(rows)", "dependence(rows)", "products(rows)"],
+    "charts": ["never_below(chart)", "solid(chart)", "flat(chart)", "rest(chart, rows)"],
+    "check_charts": ["shows_rank(rows, value)", "shows_never_below(chart, value)", "shows_rest(chart, rows, value)"],
+    "kin": ["kin(one, other)", "groups(album)"],
+    "check_kin": ["shows_kin(one, other, value)"],
+    "traysettled": ["settle_tray(tray)", "tray_quarrels(tray)", "tray_chart_at(tray, c)", "c_of(tray, one, other)"],
+    "steady": ["steady(tray)", "steady_row(tray, number)"],
+    "check_trays": ["shows_tray(tray, value)", "shows_steady(tray, value)"],
+    "axes": ["axis(one, other)"],
+}
+CLASSES = {
+    "papers": {"Paper": ["__init__(self, word, *parts)", "__eq__(self, other)"], "Denial": ["__eq__(self, other)"]},
+    "tables": {"Rank": ["__init__(self, many, rows, columns)"]},
+    "charts": {
+        "Chart": ["__init__(self, rows, by=1)", "__eq__(self, other)", "__str__(self)", "product(self, step, its)",
+                  "square(self, step)", "within(self, pins)", "volume(self, pins)"],
+        "Squares": ["__init__(self, terms)"], "Below": ["__init__(self, row)"], "Rest": ["__init__(self, ratio, row)"],
+        "NoRest": ["__init__(self, pins)"]},
+    "bodies": {
+        "Body": ["__init__(self, places)", "__eq__(self, other)", "chart(self)", "depths(self)", "seen(self)", "mirrored(self)",
+                 "turned(self, four)", "moved(self, by)", "in_order(self, pins)", "album(self, fours)"]},
+    "pictures": {
+        "Picture": ["__init__(self, places)", "__eq__(self, other)", "__str__(self)", "read(text)", "products(self)",
+                    "is_thin(self)", "shifted(self, x, y)", "turned(self, x=0, y=1)", "mirrored(self)", "times(self, number)",
+                    "in_order(self, pins)", "without(self, pin)", "with_pin(self, x, y)"]},
+    "albums": {
+        "Album": ["__init__(self, pictures)", "__eq__(self, other)", "__len__(self)", "__str__(self)", "read(text)",
+                  "with_picture(self, picture)", "joined(self, other)", "picked(self, numbers)", "without(self, numbers)",
+                  "in_order(self, pins)", "without_pin(self, pin)", "with_pin(self, places)"]},
+    "kin": {"Kin": ["__init__(self, hand, turn)"], "NotKin": ["__init__(self, pin, its)"]},
+    "trays": {
+        "Tray": ["__init__(self, rows)", "__eq__(self, other)", "__len__(self)", "__str__(self)", "read(text)",
+                 "with_row(self, places)", "picked(self, numbers)", "in_order(self, pins)", "kin_rows(self)"]},
+    "traysettled": {
+        "TrayFree": ["__init__(self)"], "TrayStretch": ["__init__(self, one, other)"], "TrayOne": ["__init__(self, chart)"],
+        "TrayThin": ["__init__(self, number)"], "TrayUnlike": ["__init__(self, one, other)"],
+        "TrayApart": ["__init__(self, one, other, third, pins)"], "TrayNoTriangle": ["__init__(self, one, other, third, x, y)"],
+        "TrayMisfit": ["__init__(self, one, other, third, fourth, square)"]},
+    "steady": {"Steady": ["__init__(self, double, again)"], "SteadyOpen": ["__init__(self)"],
+               "Unsteady": ["__init__(self, number)"]},
+    "axes": {"Axis": ["__init__(self, mine, its)"], "SamePlane": ["__init__(self, hand)"], "Thin": ["__init__(self, number, row)"],
+             "Apart": ["__init__(self, one, other, pins)"], "Unalike": ["__init__(self, one, other, pin, its)"],
+             "Unequal": ["__init__(self, one, other, mine, its)"]},
+}
+
+
+class InterfaceTest(unittest.TestCase):
+
+    def check(self, told, made):
+        name, rest = told.split("(", 1)
+        self.assertEqual(name + str(inspect.signature(made)), name + "(" + rest)
+
+    def test_functions(self):
+        for file, rows in FUNCTIONS.items():
+            module = importlib.import_module("farseen." + file)
+            for told in rows:
+                made = getattr(module, told.split("(")[0])
+                self.assertEqual(made.__module__, module.__name__)
+                self.check(told, made)
+
+    def test_classes(self):
+        for file, classes in CLASSES.items():
+            module = importlib.import_module("farseen." + file)
+            for name, rows in classes.items():
+                made = getattr(module, name)
+                self.assertEqual(made.__module__, module.__name__)
+                for told in rows:
+                    method = vars(made)[told.split("(")[0]]
+                    self.check(told, getattr(method, "__func__", method))
+
+
+if __name__ == "__main__":
+    unittest.main()

@@ -1,0 +1,117 @@
+"""A call that raises changes nothing; no answer comes late."""
+
+import copy
+import unittest
+
+from farseen.albums import Album
+from farseen.bodies import Body
+from farseen.charts import Chart, never_below, rest
+from farseen.check_charts import shows_rank, shows_rest
+from farseen.check_kin import shows_kin
+from farseen.check_trays import shows_steady, shows_tray
+from farseen.errors import SeenError
+from farseen.kin import Kin, groups, kin
+from farseen.pictures import Picture
+from farseen.steady import steady, steady_row
+from farseen.tables import rank
+from farseen.trays import Tray
+from farseen.traysettled import c_of, settle_tray, tray_chart_at, tray_quarrels
+from tests.helpers import HUGE, LIMIT, Case, chance, odd_values
+from tests.test_check_trays import CLASSES
+
+WRONG = odd_values() + [[0, 1, 2, 9], [0, 1, 1, 2], [0, 1, 2], [3, 3], (0, 0, 0), [[0, 1], [1, True]], [[5] * 7] * 20]
+
+
+def all_methods(value):
+    return [getattr(value, name) for name, method in vars(type(value)).items()
+            if not name.startswith("_") and callable(getattr(value, name))]
+
+
+class UnchangedTest(Case):
+
+    def check(self, value):
+        """Neither the value nor what is passed changes, whatever is passed."""
+        before = dict(vars(value))
+        raised = 0
+        for method in all_methods(value):
+            many = method.__code__.co_argcount - (0 if method.__name__ == "read" else 1)
+            for wrong in WRONG:
+                passed = [wrong] * many
+                text = repr(passed)
+                try:
+                    method(*passed)
+                except SeenError:
+                    raised += 1
+                self.assertEqual(repr(passed), text)
+                self.assertEqual(dict(vars(value)), before)
+        self.assertGreater(raised, 100)
+
+    def test_values(self):
+        picture = Picture([(LIMIT, 1), (3, 1), (1, 4), (0, -LIMIT), (2, 2)])
+        self.check(picture)
+        self.check(Album([picture, picture.mirrored()]))
+        self.check(Body([[LIMIT, 0, 0], [1, 0, 0], [0, 1, 0], [0, 0, 1]]))
+        self.check(Tray([[0, 2, 1, 4], [5, 6, 7, 0]]))
+        self.check(Chart([[28, 26], [26, 28]], 3))
+
+    def test_functions(self):
+        tray, picture, chart = Tray([[0, 2, 1], [0, 1, 2]]), Picture([(1, 1), (3, 1), (1, 4), (0, 0)]), Chart([[1, 0], [0, 1]])
+        before = copy.deepcopy([vars(tray), vars(picture), vars(chart)])
+        for wrong in WRONG:
+            for call, args in ((tray_chart_at, (tray, wrong)), (c_of, (tray, wrong, 0)), (steady_row, (tray, wrong)),
+                               (kin, (picture, wrong)), (rest, (chart, wrong)), (shows_rest, (chart, wrong, wrong)),
+                               (shows_kin, (picture, picture, wrong)), (shows_tray, (tray, wrong)), (shows_steady, (tray, wrong))):
+                text = repr(wrong)
+                try:
+                    call(*args)
+                except SeenError:
+                    pass
+                self.assertEqual(repr(wrong), text)
+        self.assertEqual([vars(tray), vars(picture), vars(chart)], before)
+
+
+class ShortTimeTest(Case):
+
+    def setUp(self):
+        self.dice = chance(99)
+
+    def numbers(self, many):
+        return [self.dice.randrange(10 ** 8, 10 ** 9) for _ in range(many)]
+
+    def test_tables_and_charts(self):
+        table = [self.numbers(7) for _ in range(16)]
+        self.takes_short(shows_rank, table, self.takes_short(rank, table))
+        rows = [self.numbers(6) for _ in range(6)]
+        chart = Chart([[rows[max(a, b)][min(a, b)] for b in range(6)] for a in range(6)], 999999937)
+        table = [self.numbers(6) for _ in range(16)]
+        self.assertTrue(self.takes_short(shows_rest, chart, table, self.takes_short(rest, chart, table)))
+        self.takes_short(never_below, chart)
+        self.takes_short(chart.volume, [6, 5, 4, 3])
+
+    def test_pictures(self):
+        places = [[self.dice.randrange(-LIMIT, LIMIT) for _ in range(2)] for _ in range(7)]
+        pictures = [Picture(places), Picture(places).turned(), Picture(places).mirrored(), Picture(places).times(-1)]
+        album = Album(pictures * 2)
+        self.assertEqual(self.takes_short(groups, album), (tuple(range(8)),))
+        self.assertTrue(self.takes_short(shows_kin, pictures[0], pictures[1], Kin(1, (1, 0, 1))))
+        self.assertEqual(self.takes_short(Album.read, str(album)), album)
+        body = Body([[self.dice.randrange(-1000, 1000) for _ in range(3)] for _ in range(7)])
+        self.assertEqual(len(self.takes_short(body.album, [(1, 2, 3, 4), (9, -9, 9, -9), (5, 0, 0, 0)])), 3)
+
+    def test_long_texts(self):
+        for text in ("0 " * 9999, "1" * 20000, " " * 20000, "0 0 / " * 3333, "-" * 20000, "; " * 9999):
+            for read in (Picture.read, Album.read, Tray.read):
+                with self.assertRaises(SeenError):
+                    self.takes_short(read, text)
+
+    def test_trays(self):
+        tray = Tray([self.numbers(7) for _ in range(8)])
+        self.takes_short(tray_quarrels, tray)
+        self.assertTrue(self.takes_short(shows_tray, tray, self.takes_short(settle_tray, tray)))
+        self.assertTrue(self.takes_short(shows_steady, tray, self.takes_short(steady, tray)))
+        for made, many in CLASSES:
+            self.takes_short(shows_tray, tray, made(*[HUGE] * many))
+
+
+if __name__ == "__main__":
+    unittest.main()
