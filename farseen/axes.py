@@ -3,6 +3,7 @@
 from farseen.kin import Kin, kin
 from farseen.papers import Denial, Paper
 from farseen.pictures import check_two
+from farseen.planes import first_minor, joined_rank
 from farseen.tables import dependence, rank
 
 
@@ -54,39 +55,39 @@ class Unequal(Denial):
         self.one, self.other, self.mine, self.its = self.parts
 
 
-def _thin_of_either(one, other):
-    """The Thin of the first picture that is thin, or None."""
-    for number, picture in ((0, one), (1, other)):
-        row = dependence(picture.rows)
-        if row is not None:
-            return Thin(number, row)
-    return None
+def thin_of(picture, number):
+    """The Thin of a picture, told by this number, or None."""
+    if first_minor(picture.rows[0], picture.rows[1]) is not None:
+        return None
+    return Thin(number, dependence(picture.rows))
 
 
-def _in_one_plane(one, other):
+def _in_one_plane(one, other, numbers):
     told = kin(one, other)
     if isinstance(told, Kin):
         return SamePlane(told.hand)
-    return Unalike(0, 1, told.pin, told.its)
+    return Unalike(numbers[0], numbers[1], told.pin, told.its)
 
 
-def _along_axis(one, other):
-    against = [[-number for number in row] for row in other.rows]
-    m, n, s, t = dependence(list(one.rows) + against)
+def axis_between(one, other, numbers):
+    """What `axis` tells of two pictures that are not thin, told by these numbers."""
+    many, both = joined_rank(one.rows, other.rows)
+    if many == 2:
+        return _in_one_plane(one, other, numbers)
+    if many == 4:
+        columns = rank(one.rows + other.rows).columns
+        return Apart(numbers[0], numbers[1], [column + 1 for column in columns])
+    m, n, s, t = both
     if m * m + n * n == s * s + t * t:
         return Axis((m, n), (s, t))
-    return Unequal(0, 1, (m, n), (s, t))
+    return Unequal(numbers[0], numbers[1], (m, n), (s, t))
 
 
 def axis(one, other):
     """The first that is so: Thin, Apart, SamePlane or Unalike, Axis or Unequal."""
     check_two(one, other)
-    thin = _thin_of_either(one, other)
-    if thin is not None:
-        return thin
-    told = rank(one.rows + other.rows)
-    if told.many == 4:
-        return Apart(0, 1, [column + 1 for column in told.columns])
-    if told.many == 2:
-        return _in_one_plane(one, other)
-    return _along_axis(one, other)
+    for number, picture in ((0, one), (1, other)):
+        thin = thin_of(picture, number)
+        if thin is not None:
+            return thin
+    return axis_between(one, other, (0, 1))

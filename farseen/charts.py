@@ -6,7 +6,7 @@ from farseen.errors import BadChart, Misfit
 from farseen.guards import check_pins, check_step
 from farseen.papers import Denial, Paper
 from farseen.ratios import over, times
-from farseen.tables import check_table, determinant, products
+from farseen.tables import check_table, determinant, products_of
 
 
 class Squares(Paper):
@@ -193,8 +193,18 @@ def left_of(chart, rows):
     check_table(rows)
     if len(rows[0]) != chart.pins - 1:
         raise Misfit("pins")
-    taken, size = products(rows), len(chart.rows)
+    taken, size = products_of(rows), len(chart.rows)
     return [[chart.rows[a][b] - chart.by * taken[a][b] for b in range(size)] for a in range(size)]
+
+
+def _is_one_row(left, at):
+    """Whether what is left is a multiple of the row there, by itself."""
+    top, size = left[at], len(left)
+    for a in range(size):
+        for b in range(a + 1):
+            if top[at] * left[a][b] != top[a] * top[b]:
+                return False
+    return True
 
 
 def _pins_amiss(left):
@@ -205,6 +215,9 @@ def _pins_amiss(left):
     for a in range(size):
         if left[a][a] < 0:
             return (a + 1, a + 1)
+    at = _first_square(left)
+    if at is not None and _is_one_row(left, at):
+        return None
     for a, b in combinations(range(size), 2):
         for d, e in combinations(range(size), 2):
             if left[a][d] * left[b][e] != left[a][e] * left[b][d]:

@@ -2,7 +2,7 @@
 
 from farseen.charts import Chart, Rest, rest
 from farseen.checks import is_ratio, is_within
-from farseen.edges import are_multiples, c_by, is_thin, is_triangle, product_at, ways_to
+from farseen.edges import are_multiples, c_by_sums, is_thin, over_one, product_at, ways_to
 from farseen.exact import is_lot, is_made, is_same
 from farseen.steady import Steady, SteadyOpen, Unsteady, steady
 from farseen.tables import determinant
@@ -93,7 +93,7 @@ def _ways_in(rows, lot):
 def _are_no_triangle(rows, lot, ways):
     if not _is_lot_of(rows, lot) or not all([is_ratio(way) and way[0] != 0 for way in ways]):
         return False
-    return ways == _ways_in(rows, lot) and not is_triangle(ways)
+    return ways == _ways_in(rows, lot) and c_by_sums(over_one(ways)) is None
 
 
 def _is_misfit(rows, lot, square):
@@ -104,7 +104,8 @@ def _is_misfit(rows, lot, square):
     if third is None or fourth is None:
         return False
     # With x or y 0 there is no triangle either.
-    return is_triangle(third) and square == product_at(c_by(third), fourth, fourth)
+    c = c_by_sums(over_one(third))
+    return c is not None and square == product_at(c, over_one(fourth), over_one(fourth))
 
 
 def shows_steady(tray, value):

@@ -1,19 +1,34 @@
-"""Rows of a tray held against one another: multiples, sums, triangles, charts."""
+"""Rows held against one another: multiples, sums, triangles, and charts of trays."""
 
 from farseen.charts import Chart
 from farseen.checks import lowest
-from farseen.ratios import minus, over, plus, times
-from farseen.tables import dependence
+from farseen.planes import first_minor, is_made_of, parts_of
 
 
 def is_thin(row):
     """Whether all its integers are 0."""
-    return not any([number != 0 for number in row])
+    return not any(row)
 
 
 def are_multiples(row, its):
     """Whether one of both rows is a multiple of the other one."""
-    return dependence([row, its]) is not None
+    return first_minor(row, its) is None
+
+
+def sums_to(one, other, third):
+    """The x, the y, and what both are over, with which two rows, no multiples, make the third one, or None."""
+    minor = first_minor(one, other)
+    parts = parts_of(minor, one, other, third)
+    if not is_made_of(minor, one, other, third, parts):
+        return None
+    return (parts[0], parts[1], minor[2])
+
+
+def c_by_sums(sums):
+    """The c of two rows that make another one so, None if 1, x and y make no triangle that is not flat."""
+    x, y, by = sums
+    number, twice = by * by - x * x - y * y, 2 * x * y
+    return lowest(number, twice) if abs(number) < abs(twice) else None
 
 
 def ways_to(one, other, third):
@@ -21,41 +36,37 @@ def ways_to(one, other, third):
 
     The first two rows are no multiples of one another.
     """
-    sums = dependence([one, other, third])
+    sums = sums_to(one, other, third)
     if sums is None:
         return None
-    return (lowest(-sums[0], sums[2]), lowest(-sums[1], sums[2]))
+    x, y, by = sums
+    return (lowest(x, by), lowest(y, by))
 
 
-def is_triangle(ways):
-    """Whether 1, x and y, without their signs, are the sides of a triangle that is not flat."""
+def over_one(ways):
+    """Both ratios over one number."""
     x, y = ways
-    sides = [x[1] * y[1], abs(x[0]) * y[1], abs(y[0]) * x[1]]
-    return 2 * max(sides) < sum(sides)
+    return (x[0] * y[1], y[0] * x[1], x[1] * y[1])
 
 
-def c_by(ways):
-    """The c of two rows if x times the one and y times the other is a row, too."""
-    x, y = ways
-    left = minus(minus((1, 1), times(x, x)), times(y, y))
-    return over(left, times((2, 1), times(x, y)))
-
-
-def product_at(c, ways, its):
-    """The product of two rows that are x times the one and y times the other of two at c.
+def product_at(c, sums, its):
+    """The product of two rows that two others at c make so.
 
     It is the cosine between them, and 1 for a row of the chart at c with itself.
     """
-    (x, y), (u, v) = ways, its
-    crosswise = plus(times(x, v), times(y, u))
-    return plus(plus(times(x, u), times(y, v)), times(c, crosswise))
+    (x, y, by), (u, v, its_by) = sums, its
+    number = (x * u + y * v) * c[1] + (x * v + y * u) * c[0]
+    return lowest(number, by * its_by * c[1])
 
 
 def edge_chart(one, other, c):
     """The chart of two rows, no multiples of one another, at c."""
     number, by = c
-    size = len(one)
-    rows = [[by * by * (one[a] * one[b] + other[a] * other[b])
-             - number * by * (one[a] * other[b] + other[a] * one[b])
-             for b in range(size)] for a in range(size)]
-    return Chart(rows, by * by - number * number)
+    wide, cross, size = by * by, number * by, len(one)
+    rows = [[0] * size for _ in range(size)]
+    for a in range(size):
+        for b in range(a + 1):
+            told = wide * (one[a] * one[b] + other[a] * other[b]) - cross * (one[a] * other[b] + other[a] * one[b])
+            rows[a][b] = told
+            rows[b][a] = told
+    return Chart(rows, wide - number * number)

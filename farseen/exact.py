@@ -31,3 +31,13 @@ def is_lot(value, size, least, most):
     if any([value[k] >= value[k + 1] for k in range(size - 1)]):
         return False
     return least <= value[0] and value[size - 1] <= most
+
+
+def is_pair(value):
+    """Whether it is a tuple of two integers."""
+    return isinstance(value, tuple) and len(value) == 2 and is_integer(value[0]) and is_integer(value[1])
+
+
+def are_pairs(value, many):
+    """Whether it is a tuple of so many pairs of integers."""
+    return isinstance(value, tuple) and len(value) == many and all([is_pair(item) for item in value])

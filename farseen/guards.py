@@ -1,7 +1,7 @@
 """Numbers that are passed for pins, pictures and steps: which errors they raise."""
 
-from farseen.checks import first_twice, is_integer, is_list, is_within
-from farseen.errors import BadNumber, Misfit, NoPicture, NoPin, Twice
+from farseen.checks import first_twice, is_integer, is_list, is_ratio, is_within
+from farseen.errors import BadNumber, BadRatio, Misfit, NoPicture, NoPin, Twice
 
 
 def check_integer(value, part):
@@ -69,3 +69,9 @@ def check_picture_numbers(values, many):
     if wrong:
         raise NoPicture(wrong[0])
     _check_unlike(values)
+
+
+def check_c(value):
+    """Raise BadRatio unless the value is a ratio between -1 and 1."""
+    if not is_ratio(value) or abs(value[0]) >= value[1]:
+        raise BadRatio("c")

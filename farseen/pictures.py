@@ -4,7 +4,8 @@ from farseen.checks import is_within
 from farseen.errors import BadNumber, BadPicture, Misfit, TooMany
 from farseen.guards import check_integer, check_order, check_pin
 from farseen.places import LIMIT, are_places, check_room, steps_along
-from farseen.tables import dependence, products
+from farseen.planes import first_minor
+from farseen.tables import products_of
 from farseen.texts import items_of, places_at
 
 FEWEST_PINS = 4
@@ -35,11 +36,11 @@ class Picture:
 
     def products(self):
         """The products of the rows."""
-        return products(self.rows)
+        return products_of(self.rows)
 
     def is_thin(self):
         """Whether the rows depend."""
-        return dependence(self.rows) is not None
+        return first_minor(self.rows[0], self.rows[1]) is None
 
     def shifted(self, x, y):
         """All places moved alike."""

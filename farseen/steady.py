@@ -4,7 +4,6 @@ from farseen.checks import is_within, lowest
 from farseen.edges import are_multiples, is_thin
 from farseen.errors import BadNumber, Impossible, Misfit
 from farseen.papers import Denial, Paper
-from farseen.ratios import minus, times
 from farseen.tables import dependence
 from farseen.trays import check_tray
 
@@ -96,11 +95,22 @@ def steady_row(tray, number):
 
 
 def _row_on(double, rows, number):
-    """Forth from row 0 to row 1, or back from row 1 to row 0, and so on."""
-    first, second = [[(place, 1) for place in row] for row in rows[:2]]
+    """The row so many steps from row 0: forth from row 0 to row 1, or back from row 1 to row 0."""
+    first, second = rows[:2]
     if number < 0:
-        first, second = second, first
-    steps = number if number >= 0 else 1 - number
-    for _ in range(steps):
-        first, second = second, [minus(times(double, now), ahead) for ahead, now in zip(first, second)]
-    return tuple(first)
+        first, second, number = second, first, 1 - number
+    if number == 0:
+        return tuple([(place, 1) for place in first])
+    ahead, now, by = _parts_after(double, number)
+    return tuple([lowest(now * its - ahead * mine, by) for mine, its in zip(first, second)])
+
+
+def _parts_after(double, steps):
+    """How many times the first row, taken off, and the second one make the row so many steps on, over a number."""
+    times_ahead, by = double
+    square = by * by
+    ahead, now, power = 0, 1, 1
+    for _ in range(steps - 1):
+        # The first part lags one power of by behind the second one, which keeps both integers.
+        ahead, now, power = now, times_ahead * now - square * ahead, power * by
+    return (ahead * by, now, power)

@@ -106,8 +106,19 @@ def dependence(rows):
     return None
 
 
+def products_of(rows):
+    """The products of rows that are known to be a table."""
+    width = len(rows[0])
+    found = [[0] * width for _ in range(width)]
+    for a in range(width):
+        for b in range(a + 1):
+            told = sum([row[a] * row[b] for row in rows])
+            found[a][b] = told
+            found[b][a] = told
+    return tuple([tuple(row) for row in found])
+
+
 def products(rows):
     """For each two columns the sum of what both have in a row, multiplied."""
     check_table(rows)
-    width = len(rows[0])
-    return tuple([tuple([sum([row[a] * row[b] for row in rows]) for b in range(width)]) for a in range(width)])
+    return products_of(rows)

@@ -1,15 +1,13 @@
 """What a tray tells: any chart, those of one number c, one chart, or that it is none's."""
 
-from itertools import combinations
-from farseen.checks import is_ratio
-from farseen.edges import are_multiples, c_by, edge_chart, is_thin, is_triangle, product_at, ways_to
-from farseen.errors import BadRatio, Misfit
-from farseen.guards import check_picture_number
+from farseen.amiss import is_whole, lots_amiss, spread
+from farseen.edges import c_by_sums, edge_chart, is_thin, product_at, sums_to, ways_to
+from farseen.errors import Misfit
+from farseen.guards import check_c, check_picture_number
 from farseen.papers import Denial, Paper
+from farseen.planes import first_minor
 from farseen.tables import rank
-from farseen.trays import are_kin, check_tray
-
-LONGEST_QUARREL = 4
+from farseen.trays import check_tray
 
 
 class TrayFree(Paper):
@@ -75,11 +73,33 @@ class TrayMisfit(Denial):
         self.one, self.other, self.third, self.fourth, self.square = self.parts
 
 
-def _reason_of_two(rows, lot):
-    one, other = lot
-    if are_multiples(rows[one], rows[other]) and not are_kin(rows[one], rows[other]):
-        return TrayUnlike(one, other)
-    return None
+class HeldRows:
+    """The rows of a tray, held against one another: what each three tell, reckoned once."""
+
+    def __init__(self, tray):
+        self.rows = tray.rows
+        self.lots = tray.kin_rows()
+        self.firsts = [lot[0] for lot in self.lots]
+        self.by_three = {}
+
+    def is_amiss(self, lot):
+        """Whether these rows, no two of them kin, are none's, if no shorter lot of them is."""
+        if len(lot) == 1:
+            return is_thin(self.rows[lot[0]])
+        if len(lot) == 2:
+            return first_minor(self.rows[lot[0]], self.rows[lot[1]]) is None
+        if len(lot) == 3:
+            return self.c_by(lot) is None
+        # The fourth row is one of the chart of the first three exactly if it tells the same c.
+        return self.c_by(lot[:3]) != self.c_by(lot[:2] + lot[3:])
+
+    def c_by(self, lot):
+        """The c of the first two of three rows, None if no pins have all three."""
+        if lot not in self.by_three:
+            one, other, third = [self.rows[number] for number in lot]
+            sums = sums_to(one, other, third)
+            self.by_three[lot] = None if sums is None else c_by_sums(sums)
+        return self.by_three[lot]
 
 
 def _reason_of_three(rows, lot):
@@ -88,93 +108,58 @@ def _reason_of_three(rows, lot):
     if ways is None:
         columns = rank([rows[number] for number in lot]).columns
         return TrayApart(one, other, third, [column + 1 for column in columns])
-    if not is_triangle(ways):
-        return TrayNoTriangle(one, other, third, ways[0], ways[1])
-    return None
+    return TrayNoTriangle(one, other, third, ways[0], ways[1])
 
 
-def _reason_of_four(rows, lot):
+def _reason_of_four(held, lot):
     one, other, third, fourth = lot
-    c = c_by(ways_to(rows[one], rows[other], rows[third]))
-    ways = ways_to(rows[one], rows[other], rows[fourth])
-    square = product_at(c, ways, ways)
-    if square != (1, 1):
-        return TrayMisfit(one, other, third, fourth, square)
-    return None
+    sums = sums_to(held.rows[one], held.rows[other], held.rows[fourth])
+    return TrayMisfit(one, other, third, fourth, product_at(held.c_by(lot[:3]), sums, sums))
 
 
-def _have_kin(rows, lot):
-    return any([are_kin(rows[lot[a]], rows[lot[b]]) for b in range(len(lot)) for a in range(b)])
-
-
-def _reason(rows, lot):
-    """The denial of a lot of rows of which no shorter lot is none's, or None."""
+def _first_reason(held):
+    lot = lots_amiss(held, 1)[0]
     if len(lot) == 1:
-        return TrayThin(lot[0]) if is_thin(rows[lot[0]]) else None
+        return TrayThin(lot[0])
     if len(lot) == 2:
-        return _reason_of_two(rows, lot)
-    if _have_kin(rows, lot):
-        # Without one of both kin rows a shorter lot tells the same.
-        return None
+        return TrayUnlike(lot[0], lot[1])
     if len(lot) == 3:
-        return _reason_of_three(rows, lot)
-    return _reason_of_four(rows, lot)
+        return _reason_of_three(held.rows, lot)
+    return _reason_of_four(held, lot)
 
 
-def _has_one_of(lots, lot):
-    return any([all([number in lot for number in its]) for its in lots])
-
-
-def _quarrels(rows):
-    """The pairs of each lot that is none's, while no shorter lot of it is, and its denial."""
-    lots, found = [], []
-    for size in range(1, LONGEST_QUARREL + 1):
-        for lot in combinations(range(len(rows)), size):
-            if not _has_one_of(lots, lot):
-                denial = _reason(rows, lot)
-                if denial is not None:
-                    lots.append(lot)
-                    found.append((lot, denial))
-    return found
-
-
-def _unlike_rows(tray):
-    """The first rows of each lot of kin rows."""
-    return [lot[0] for lot in tray.kin_rows()]
+def _settled(held):
+    """The paper of what the rows tell, or the first reason why they are none's."""
+    if not is_whole(held):
+        return _first_reason(held)
+    firsts = held.firsts
+    if len(firsts) == 1:
+        return TrayFree()
+    if len(firsts) == 2:
+        return TrayStretch(firsts[0], firsts[1])
+    c = held.c_by(tuple(firsts[:3]))
+    return TrayOne(edge_chart(held.rows[firsts[0]], held.rows[firsts[1]], c))
 
 
 def settle_tray(tray):
     """The paper of what a tray tells, or the first reason why it is none's."""
     check_tray(tray, "tray")
-    found = _quarrels(tray.rows)
-    if found:
-        return found[0][1]
-    unlike = _unlike_rows(tray)
-    if len(unlike) == 1:
-        return TrayFree()
-    if len(unlike) == 2:
-        return TrayStretch(unlike[0], unlike[1])
-    one, other = tray.rows[unlike[0]], tray.rows[unlike[1]]
-    return TrayOne(edge_chart(one, other, _settled_c(tray, unlike)))
-
-
-def _settled_c(tray, unlike):
-    """The c of the first two rows that are not kin, by the third one."""
-    one, other, third = [tray.rows[number] for number in unlike[:3]]
-    return c_by(ways_to(one, other, third))
+    return _settled(HeldRows(tray))
 
 
 def tray_quarrels(tray):
     """The lots of rows that are none's, while no shorter lot of them is, ordered."""
     check_tray(tray, "tray")
-    return tuple([lot for lot, _ in _quarrels(tray.rows)])
+    held = HeldRows(tray)
+    if is_whole(held):
+        return ()
+    return spread(lots_amiss(held, None), held.lots)
 
 
 def tray_chart_at(tray, c):
     """The chart at c of the two rows of a stretch."""
     check_tray(tray, "tray")
-    if not is_ratio(c) or abs(c[0]) >= c[1]:
-        raise BadRatio("c")
+    check_c(c)
     told = settle_tray(tray)
     if not isinstance(told, TrayStretch):
         raise Misfit("kind")
@@ -186,9 +171,9 @@ def c_of(tray, one, other):
     check_tray(tray, "tray")
     check_picture_number(one, len(tray.rows))
     check_picture_number(other, len(tray.rows))
-    if not isinstance(settle_tray(tray), TrayOne):
+    held = HeldRows(tray)
+    if len(held.firsts) < 3 or not is_whole(held):
         raise Misfit("kind")
-    unlike = _unlike_rows(tray)
-    first, second = tray.rows[unlike[0]], tray.rows[unlike[1]]
-    ways, its = [ways_to(first, second, tray.rows[number]) for number in (one, other)]
-    return product_at(_settled_c(tray, unlike), ways, its)
+    first, second = [tray.rows[number] for number in held.firsts[:2]]
+    sums, its = [sums_to(first, second, tray.rows[number]) for number in (one, other)]
+    return product_at(held.c_by(tuple(held.firsts[:3])), sums, its)

@@ -27,10 +27,17 @@ def names_of_errors():
     return {name: value for name, value in vars(errors).items() if isinstance(value, type)}
 
 
+def names_in(section):
+    """What the file of this section defines."""
+    module = importlib.import_module("farseen." + section)
+    return {name: value for name, value in vars(module).items()
+            if getattr(value, "__module__", None) == module.__name__ and not name.startswith("_")}
+
+
 class ExamplesTest(unittest.TestCase):
 
     def check_raised(self, code, told, names):
-        right = eval(told, names_of_errors())
+        right = eval(told, {**names, **names_of_errors()})
         with self.assertRaises(errors.SeenError) as caught:
             exec(code, names)
         self.assertIs(type(caught.exception), type(right))
@@ -38,12 +45,15 @@ class ExamplesTest(unittest.TestCase):
 
     def test_examples(self):
         examples = read_examples()
-        self.assertEqual(len(examples), 45)
-        names = {}
+        self.assertEqual(len(examples), 68)
+        names, last = {}, None
         for section in dict.fromkeys(section for section, _, _ in examples):
-            module = importlib.import_module("farseen." + section)
-            names.update({name: value for name, value in vars(module).items() if not name.startswith("_")})
+            names.update(names_in(section))
         for section, code, shown in examples:
+            if section != last:
+                # An example ahead may have given the name to another value.
+                names.update(names_in(section))
+                last = section
             with self.subTest(section=section, code=code):
                 if not shown:
                     exec(code, names)

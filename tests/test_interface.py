@@ -18,6 +18,16 @@ FUNCTIONS = {
     "steady": ["steady(tray)", "steady_row(tray, number)"],
     "check_trays": ["shows_tray(tray, value)", "shows_steady(tray, value)"],
     "axes": ["axis(one, other)"],
+    "stretches": ["along(one, other)", "chart_at(one, other, c)", "depths_at(one, other, c)", "turn(one, other, chart)"],
+    "leasts": ["least_square(one, other, step)", "least_volume(one, other, pins)"],
+    "check_axes": ["shows_axis(one, other, value)", "shows_turn(one, other, chart, value)",
+                   "shows_least_square(one, other, step, value)", "shows_least_volume(one, other, pins, value)"],
+    "corners": ["corner(album, numbers)"],
+    "reasons": ["reason(album)"],
+    "settled": ["settle(album)", "kind(album)", "is_nones(album)"],
+    "quarrels": ["quarrels(album)"],
+    "struck": ["fewest_struck(album)", "settling(album)"],
+    "check_settled": ["shows_corner(album, numbers, value)", "shows_settle(album, value)"],
 }
 CLASSES = {
     "papers": {"Paper": ["__init__(self, word, *parts)", "__eq__(self, other)"], "Denial": ["__eq__(self, other)"]},
@@ -52,6 +62,13 @@ CLASSES = {
     "axes": {"Axis": ["__init__(self, mine, its)"], "SamePlane": ["__init__(self, hand)"], "Thin": ["__init__(self, number, row)"],
              "Apart": ["__init__(self, one, other, pins)"], "Unalike": ["__init__(self, one, other, pin, its)"],
              "Unequal": ["__init__(self, one, other, mine, its)"]},
+    "stretches": {"Along": ["__init__(self, square, row, mine, its)"], "Turn": ["__init__(self, c)"],
+                  "Unfit": ["__init__(self, number, pins)"]},
+    "leasts": {"Least": ["__init__(self, number, c)"], "Sole": ["__init__(self, number)"]},
+    "corners": {"Corner": ["__init__(self, axes, products)"], "Hinge": ["__init__(self, ends, ratios)"]},
+    "reasons": {"NoCorner": ["__init__(self, one, other, third, determinant)"], "NoTriangle": ["__init__(self, one, other, third, x, y)"],
+                "Misfits": ["__init__(self, one, other, third, fourth, chart, paper)"]},
+    "settled": {"Free": ["__init__(self)"], "Stretch": ["__init__(self, one, other)"], "One": ["__init__(self, chart)"]},
 }
 
 

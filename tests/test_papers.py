@@ -13,6 +13,10 @@ PAPERS = {
     "traysettled": {"TrayFree": [], "TrayStretch": ["one", "other"], "TrayOne": ["chart"]},
     "steady": {"Steady": ["double", "again"], "SteadyOpen": []},
     "axes": {"Axis": ["mine", "its"]},
+    "stretches": {"Along": ["square", "row", "mine", "its"], "Turn": ["c"]},
+    "leasts": {"Least": ["number", "c"], "Sole": ["number"]},
+    "corners": {"Corner": ["axes", "products"], "Hinge": ["ends", "ratios"]},
+    "settled": {"Free": [], "Stretch": ["one", "other"], "One": ["chart"]},
 }
 DENIALS = {
     "charts": {"Below": ["row"], "NoRest": ["pins"]},
@@ -24,6 +28,10 @@ DENIALS = {
     "axes": {
         "SamePlane": ["hand"], "Thin": ["number", "row"], "Apart": ["one", "other", "pins"],
         "Unalike": ["one", "other", "pin", "its"], "Unequal": ["one", "other", "mine", "its"]},
+    "stretches": {"Unfit": ["number", "pins"]},
+    "reasons": {
+        "NoCorner": ["one", "other", "third", "determinant"], "NoTriangle": ["one", "other", "third", "x", "y"],
+        "Misfits": ["one", "other", "third", "fourth", "chart", "paper"]},
 }
 
 

@@ -6,13 +6,18 @@ import unittest
 from farseen.albums import Album
 from farseen.bodies import Body
 from farseen.charts import Chart, never_below, rest
+from farseen.check_axes import shows_axis, shows_turn
 from farseen.check_charts import shows_rank, shows_rest
 from farseen.check_kin import shows_kin
+from farseen.check_settled import shows_corner, shows_settle
 from farseen.check_trays import shows_steady, shows_tray
+from farseen.corners import corner
 from farseen.errors import SeenError
 from farseen.kin import Kin, groups, kin
+from farseen.leasts import least_square, least_volume
 from farseen.pictures import Picture
 from farseen.steady import steady, steady_row
+from farseen.stretches import chart_at, turn
 from farseen.tables import rank
 from farseen.trays import Tray
 from farseen.traysettled import c_of, settle_tray, tray_chart_at, tray_quarrels
@@ -56,10 +61,15 @@ class UnchangedTest(Case):
 
     def test_functions(self):
         tray, picture, chart = Tray([[0, 2, 1], [0, 1, 2]]), Picture([(1, 1), (3, 1), (1, 4), (0, 0)]), Chart([[1, 0], [0, 1]])
-        before = copy.deepcopy([vars(tray), vars(picture), vars(chart)])
+        album = Album([picture, picture.times(2), picture.mirrored()])
+        before = copy.deepcopy([vars(tray), vars(picture), vars(chart), vars(album)])
         for wrong in WRONG:
             for call, args in ((tray_chart_at, (tray, wrong)), (c_of, (tray, wrong, 0)), (steady_row, (tray, wrong)),
                                (kin, (picture, wrong)), (rest, (chart, wrong)), (shows_rest, (chart, wrong, wrong)),
+                               (chart_at, (picture, picture, wrong)), (turn, (picture, picture, wrong)),
+                               (least_square, (picture, picture, wrong)), (least_volume, (picture, picture, wrong)),
+                               (shows_axis, (picture, picture, wrong)), (shows_turn, (picture, picture, wrong, wrong)),
+                               (corner, (album, wrong)), (shows_corner, (album, [0, 1, 2], wrong)), (shows_settle, (album, wrong)),
                                (shows_kin, (picture, picture, wrong)), (shows_tray, (tray, wrong)), (shows_steady, (tray, wrong))):
                 text = repr(wrong)
                 try:
@@ -67,7 +77,7 @@ class UnchangedTest(Case):
                 except SeenError:
                     pass
                 self.assertEqual(repr(wrong), text)
-        self.assertEqual([vars(tray), vars(picture), vars(chart)], before)
+        self.assertEqual([vars(tray), vars(picture), vars(chart), vars(album)], before)
 
 
 class ShortTimeTest(Case):
