@@ -74,12 +74,12 @@ class Chart:
         """The product of two steps."""
         check_step(step, self.pins)
         check_step(its, self.pins)
-        return lowest(self._product_over(step, its), self.by)
+        return lowest(product_in(self.rows, step, its), self.by)
 
     def square(self, step):
         """The product of a step with itself."""
         check_step(step, self.pins)
-        return lowest(self._product_over(step, step), self.by)
+        return lowest(product_in(self.rows, step, step), self.by)
 
     def within(self, pins):
         """The chart of some pins, the first of them as pin 0."""
@@ -95,17 +95,20 @@ class Chart:
             raise Misfit("pins")
         return lowest(determinant(self._products_from(pins)), self.by * self.by * self.by)
 
-    def _told(self, pin, its):
-        # The rows leave pin 0 out: all steps to it are 0.
-        return 0 if pin == 0 or its == 0 else self.rows[pin - 1][its - 1]
-
-    def _product_over(self, step, its):
-        (a, b), (c, d) = step, its
-        return self._told(b, d) + self._told(a, c) - self._told(b, c) - self._told(a, d)
-
     def _products_from(self, pins):
         steps = [(pins[0], pin) for pin in pins[1:]]
-        return [[self._product_over(step, its) for its in steps] for step in steps]
+        return [[product_in(self.rows, step, its) for its in steps] for step in steps]
+
+
+def _told(rows, pin, its):
+    # The rows leave pin 0 out: all steps to it are 0.
+    return 0 if pin == 0 or its == 0 else rows[pin - 1][its - 1]
+
+
+def product_in(rows, step, its):
+    """The product of two steps by these rows, of products of the steps from pin 0."""
+    (a, b), (c, d) = step, its
+    return _told(rows, b, d) + _told(rows, a, c) - _told(rows, b, c) - _told(rows, a, d)
 
 
 def check_chart(value, part):

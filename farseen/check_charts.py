@@ -19,7 +19,7 @@ def shows_never_below(chart, value):
     if not is_made(value):
         return False
     if isinstance(value, Squares):
-        return _shows_squares(chart, value.parts[0])
+        return are_squares(chart, value.parts[0])
     return isinstance(value, Below) and _shows_below(chart, value.parts[0])
 
 
@@ -36,7 +36,8 @@ def _is_row(row, size):
     return are_integers(row) and len(row) == size
 
 
-def _shows_squares(chart, terms):
+def are_squares(chart, terms):
+    """Whether they are pairs of a ratio above 0 and a row, not all 0, that make the chart."""
     size = len(chart.rows)
     if not isinstance(terms, tuple) or not all([_is_term(term, size) for term in terms]):
         return False

@@ -2,6 +2,7 @@
 
 from farseen.albums import check_album
 from farseen.amiss import is_whole
+from farseen.charts import rest
 from farseen.held import Held
 from farseen.papers import Denial, Paper
 from farseen.reasons import first_reason
@@ -54,3 +55,8 @@ def is_nones(album):
     """Whether no body has all pictures of the album."""
     check_album(album, "album")
     return not is_whole(Held(album))
+
+
+def rest_of(told, picture):
+    """The Rest of the one chart by the rows of a picture, None for another kind."""
+    return rest(told.chart, picture.rows) if isinstance(told, One) else None
