@@ -6,7 +6,7 @@ from farseen.check_charts import are_squares
 from farseen.checks import is_ratio
 from farseen.errors import Misfit
 from farseen.exact import is_made
-from farseen.freely import Depths
+from farseen.freely import FreeDepths
 from farseen.judged import Never, Open, Sure, can_be_at, can_be_in, row_of, told_word
 from farseen.papers import Denial
 from farseen.sayings import check_saying
@@ -62,7 +62,7 @@ def _is_told(album, saying, value):
     if isinstance(told, Denial):
         return False
     if isinstance(told, Free):
-        can_be = Depths(saying, album.pictures[0]).can_be()
+        can_be = FreeDepths(saying, album.pictures[0]).can_be()
     elif isinstance(told, One):
         can_be = can_be_in(saying, told.chart)
     else:

@@ -89,7 +89,7 @@ def _null_rows(rows):
     return found
 
 
-class Depths:
+class FreeDepths:
     """What the depths in a picture come to in the form of a saying, and what they must come to."""
 
     def __init__(self, saying, picture):

@@ -7,7 +7,7 @@ from farseen.amiss import is_whole
 from farseen.charts import product_in
 from farseen.checks import common_divisor, is_list
 from farseen.errors import BadSaying, Impossible, Misfit, TooMany
-from farseen.freely import Depths
+from farseen.freely import FreeDepths
 from farseen.held import Held
 from farseen.lots import grouped
 from farseen.papers import Denial, Paper
@@ -100,7 +100,7 @@ def _paper(saying, can_be, squares):
 
 def judged_freely(saying, picture):
     """The paper on a free album with this picture."""
-    depths = Depths(saying, picture)
+    depths = FreeDepths(saying, picture)
     told = _paper(saying, depths.can_be(), depths.shown())
     return _opened(saying.word, depths.charts()) if told is None else told
 
@@ -208,7 +208,7 @@ def right_steps(album):
 def _word_by(held, lot, saying):
     """Sure, never or open, by the pictures of this lot alone, no two of them kin."""
     if len(lot) == 1:
-        can_be = Depths(saying, held.pictures[lot[0]]).can_be()
+        can_be = FreeDepths(saying, held.pictures[lot[0]]).can_be()
     elif len(lot) == 2:
         told = along(held.pictures[lot[0]], held.pictures[lot[1]])
         can_be = can_be_at(row_of(saying, told.square, told.parts[1:]))

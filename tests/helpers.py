@@ -89,17 +89,17 @@ class Case(unittest.TestCase):
         else:
             self.fails(BadText, [0, wrong], read, text)
 
-    def reads_bent(self, read, text, patterns):
+    def reads_bent(self, read, text, patterns, more=()):
         """The text is read back; bent at any item it raises BadText with the right item, if it is no text now."""
         self.assertIsNone(item_amiss(text.split(" "), patterns))
         self.reads(read, text, patterns)
-        for bent in bent_items(text.split(" ")):
+        for bent in bent_items(text.split(" "), more):
             self.reads(read, " ".join(bent), patterns)
 
 
-def bent_items(items):
+def bent_items(items, more=()):
     """The items with one changed, put in, left out, and the end cut off."""
-    bends = ["", "0", "-7", "-0", "00", "01", "+1", "-", "--1", "/", ";", ":", "1.0", "1_0", "x", "//", "\n", "1\n",
+    bends = list(more) + ["", "0", "-7", "-0", "00", "01", "+1", "-", "--1", "/", ";", ":", "1.0", "1_0", "x", "//", "\n", "1\n",
              "\u0661", "\u00b2", "1e3", "0x1", "1" * 60, "1" * 61, "-" + "1" * 61, "1" * 5000,
              "1000000000", "-1000000000", "1000000001", "-1000000001"]
     for at in range(len(items)):
@@ -113,10 +113,17 @@ def bent_items(items):
 
 
 def fits_item(item, kind):
-    """Whether an item is of this kind: "n" is a number as bounded as places are, all else stands for itself."""
-    if kind != "n":
+    """Whether an item is of this kind; what is none of the kinds stands for itself.
+
+    "n" is a number as bounded as places are, "i" any number, "p" a pin from 0 to 6, "w" the word of a saying.
+    """
+    if kind == "p":
+        return item in tuple("0123456")
+    if kind == "w":
+        return item in ("above", "below", "just")
+    if kind not in ("n", "i"):
         return item == kind
-    return re.fullmatch("0|-?[1-9][0-9]{0,59}", item) is not None and abs(int(item)) <= LIMIT
+    return re.fullmatch("0|-?[1-9][0-9]{0,59}", item) is not None and (kind == "i" or abs(int(item)) <= LIMIT)
 
 
 def item_amiss(items, patterns):
@@ -156,6 +163,12 @@ def tray_patterns():
         kinds = (["n"] * pins + ["/"]) * 8
         found.append((kinds[:-1], [(pins + 1) * many - 1 for many in range(1, 9)]))
     return found
+
+
+def saying_patterns():
+    """A saying: 1 to 12 terms, a word, a number."""
+    term = ["i", "p", "p", "p", "p"]
+    return [((term + ["+"]) * many + term + ["w", "i"], [6 * many + 7]) for many in range(12)]
 
 
 def plain_determinant(rows):

@@ -28,6 +28,15 @@ FUNCTIONS = {
     "quarrels": ["quarrels(album)"],
     "struck": ["fewest_struck(album)", "settling(album)"],
     "check_settled": ["shows_corner(album, numbers, value)", "shows_settle(album, value)"],
+    "signs": ["signs(row)", "sign_at(row, c)"],
+    "judged": ["judged(album, saying)", "stretch_row(album, saying)", "equal_steps(album)", "right_steps(album)",
+               "enough(album, sayings)"],
+    "check_sayings": ["shows_signs(row, value)", "shows_judged(album, saying, value)"],
+    "fits": ["fits(album, picture)"],
+    "points": ["mix(album, four, pin)", "first_four(album)", "foretold(album, places)"],
+    "newpins": ["new_pin(album, places)", "chart_with(album, places)"],
+    "check_fits": ["shows_fits(album, picture, value)", "shows_mix(album, four, pin, value)",
+                   "shows_foretold(album, places, value)", "shows_new_pin(album, places, value)"],
 }
 CLASSES = {
     "papers": {"Paper": ["__init__(self, word, *parts)", "__eq__(self, other)"], "Denial": ["__eq__(self, other)"]},
@@ -69,6 +78,17 @@ CLASSES = {
     "reasons": {"NoCorner": ["__init__(self, one, other, third, determinant)"], "NoTriangle": ["__init__(self, one, other, third, x, y)"],
                 "Misfits": ["__init__(self, one, other, third, fourth, chart, paper)"]},
     "settled": {"Free": ["__init__(self)"], "Stretch": ["__init__(self, one, other)"], "One": ["__init__(self, chart)"]},
+    "sayings": {
+        "Saying": ["__init__(self, terms, word, number)", "__eq__(self, other)", "__str__(self)", "read(text)", "value(self, chart)",
+                   "holds(self, chart)", "form(self, pins)", "others(self)", "times(self, number)", "longer(step, its)",
+                   "right(step, its)"]},
+    "signs": {"Signs": ["__init__(self, below, zero, above)"]},
+    "judged": {"Sure": ["__init__(self, squares)"], "Open": ["__init__(self, one, other)"], "Never": ["__init__(self, squares)"]},
+    "fits": {"Fits": ["__init__(self, kind, rest)"]},
+    "points": {"Mix": ["__init__(self, ratios)"], "InPlane": ["__init__(self, row)"], "Foretold": ["__init__(self, places)"],
+               "Loose": ["__init__(self, pins)"], "Amiss": ["__init__(self, pin)"]},
+    "newpins": {"Place": ["__init__(self, four, mix, places)"], "Line": ["__init__(self, places, directions)"],
+                "Anywhere": ["__init__(self)"], "NoPlace": ["__init__(self, numbers)"]},
 }
 
 

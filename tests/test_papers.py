@@ -17,6 +17,11 @@ PAPERS = {
     "leasts": {"Least": ["number", "c"], "Sole": ["number"]},
     "corners": {"Corner": ["axes", "products"], "Hinge": ["ends", "ratios"]},
     "settled": {"Free": [], "Stretch": ["one", "other"], "One": ["chart"]},
+    "signs": {"Signs": ["below", "zero", "above"]},
+    "judged": {"Sure": ["squares"], "Open": ["one", "other"]},
+    "fits": {"Fits": ["kind", "rest"]},
+    "points": {"Mix": ["ratios"], "Foretold": ["places"]},
+    "newpins": {"Place": ["four", "mix", "places"], "Line": ["places", "directions"], "Anywhere": []},
 }
 DENIALS = {
     "charts": {"Below": ["row"], "NoRest": ["pins"]},
@@ -32,6 +37,9 @@ DENIALS = {
     "reasons": {
         "NoCorner": ["one", "other", "third", "determinant"], "NoTriangle": ["one", "other", "third", "x", "y"],
         "Misfits": ["one", "other", "third", "fourth", "chart", "paper"]},
+    "judged": {"Never": ["squares"]},
+    "points": {"InPlane": ["row"], "Loose": ["pins"], "Amiss": ["pin"]},
+    "newpins": {"NoPlace": ["numbers"]},
 }
 
 

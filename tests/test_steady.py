@@ -1,5 +1,6 @@
 """Steady trays: turned by one step each time."""
 
+import time
 import unittest
 from collections import Counter
 from fractions import Fraction
@@ -159,6 +160,50 @@ class RowTest(Case):
             with self.assertRaises(Impossible) as caught:
                 steady_row(Tray(rows), 0)
             self.assertEqual(vars(caught.exception), {"paper": Unsteady(number)})
+
+
+def far_trays(seed, many):
+    """Trays of seven pins whose step comes to numbers of many digits: k is 99991 / 99999, or like it."""
+    dice = chance(seed)
+    for at in range(many):
+        times, by = (99991, 99999) if at % 2 == 0 else dice.choice([(99989, 99991), (-99991, 99998), (3, 99991), (199980, 99991)])
+        one = [dice.randrange(-99999999, 10 ** 8) for _ in range(6)]
+        step = [dice.randrange(-999, 1000) for _ in range(6)]
+        yield Tray([[0] + one, [0] + [by * number for number in step], [0] + [times * b - a for a, b in zip(one, step)]])
+
+
+class FarRowsTest(Case):
+
+    def rows_plainly(self, tray, double):
+        rows = {number: list(map(Fraction, tray.rows[number])) for number in (0, 1)}
+        for number in range(2, 41):
+            rows[number] = [double * b - a for a, b in zip(rows[number - 2], rows[number - 1])]
+        for number in range(-1, -41, -1):
+            rows[number] = [double * b - a for a, b in zip(rows[number + 2], rows[number + 1])]
+        return rows
+
+    def test_all_rows(self):
+        for tray in far_trays(75, 12):
+            double = double_of(tray.rows)
+            self.assertEqual(steady(tray), Steady(ratio(double), None))
+            rows = self.rows_plainly(tray, double)
+            for number in range(-40, 41):
+                self.assertEqual(steady_row(tray, number), tuple(map(ratio, rows[number])))
+
+    def test_digits(self):
+        # The numbers are as long as told: no common divisor makes them short.
+        tray = next(far_trays(75, 1))
+        self.assertEqual(steady(tray).double, (99991, 99999))
+        self.assertGreater(min(by for _, by in steady_row(tray, -40)), 10 ** 150)
+
+    def test_short_time(self):
+        # All rows of some hundred trays: 0.15 seconds a tray would be half a minute.
+        trays = list(far_trays(76, 200))
+        start = time.perf_counter()
+        for tray in trays:
+            for number in range(-40, 41):
+                steady_row(tray, number)
+        self.assertLess(time.perf_counter() - start, 10)
 
 
 if __name__ == "__main__":

@@ -1,9 +1,11 @@
 """What trays tell, and why they are none's."""
 
 import itertools
+import time
 import unittest
 from collections import Counter
 from fractions import Fraction
+from math import lcm
 
 from farseen.charts import Chart, flat
 from farseen.errors import BadRatio, BadTray, Misfit, NoPicture
@@ -11,7 +13,7 @@ from farseen.trays import Tray
 from farseen.traysettled import (TrayApart, TrayFree, TrayMisfit, TrayNoTriangle, TrayOne, TrayStretch, TrayThin, TrayUnlike,
                                  c_of, settle_tray, tray_chart_at, tray_quarrels)
 from tests.helpers import HUGE, Case, chance, no_integers, odd_values, plain_determinant, ratio
-from tests.plain_trays import (are_multiples, c_between, chart_rows, is_nones, nones_lots, quarrels, some_trays, unlike_rows,
+from tests.plain_trays import (are_multiples, c_between, chart_rows, is_nones, nones_lots, point_at, quarrels, some_trays, unlike_rows,
                                ways)
 
 TRAY = Tray([[0, 2, 1], [5, 6, 7], [0, 3, 3], [1, 0, -1]])
@@ -212,6 +214,65 @@ class COfTest(Case):
         for tray in (TWO, FOUR, TWO.picked([0])):
             self.fails(Misfit, ["kind"], c_of, tray, 0, 0)
             self.fails(NoPicture, [7], c_of, tray, 0, 7)
+
+
+EIGHT = Tray([[-143130, 509210, 137995, 359710, -510380, -621920, -97565], [558228, -235394, 650738, 657686, 494603, 185600, 483071],
+              [454854, -62134, 618299, 688526, 292204, -14688, 401211], [403962, 7774, 591877, 685594, 205712, -93600, 360009],
+              [510150, -147710, 640475, 680390, 394400, 83360, 445415], [11994, 401926, 290389, 493186, -337156, -516768, 34221],
+              [187548, 249746, 441958, 608026, -114827, -358400, 181561], [252876, 184054, 492206, 640094, -24349, -287872, 235859]])
+
+
+def eight_rows(seed, many):
+    """Trays of eight rows of seven pins, no two kin, all of one chart; some with a row moved by one, or of another chart."""
+    dice = chance(seed)
+    made = 0
+    while made < many:
+        c = Fraction(dice.randrange(-9, 10), 10)
+        one, other = [[dice.randrange(-99, 100) for _ in range(6)] for _ in range(2)]
+        sums = [(Fraction(1), Fraction(0)), (Fraction(0), Fraction(1))]
+        sums += [point_at(c, Fraction(dice.randrange(-9, 10), dice.randrange(1, 9))) for _ in range(6)]
+        by = lcm(*[part.denominator for two in sums for part in two])
+        rows = [[int(by * (x * a + y * b)) for a, b in zip(one, other)] for x, y in sums]
+        if max(abs(number) for row in rows for number in row) < 10 ** 9 and len(unlike_rows(rows)) == 8:
+            made += 1
+            if made % 4 == 0:
+                rows[dice.randrange(8)][dice.randrange(6)] += 1
+            if made % 4 == 1:
+                at = dice.randrange(8)
+                rows[at] = [a + b for a, b in zip(rows[at - 1], rows[at - 2])]
+            yield Tray([[0] + row for row in rows])
+
+
+class EightRowsTest(Case):
+
+    def test_plainly(self):
+        found = Counter()
+        for tray in [EIGHT] + list(eight_rows(85, 11)):
+            told = settle_tray(tray)
+            self.assertEqual((told, type(told)), (plain_settle(tray.rows), type(plain_settle(tray.rows))))
+            self.assertEqual(tray_quarrels(tray), quarrels(tray.rows))
+            found[told.word] += 1
+            if told.word != "trayone":
+                self.fails(Misfit, ["kind"], c_of, tray, 0, 7)
+                continue
+            for a, b in itertools.product(range(8), repeat=2):
+                third = next(at for at in range(8) if at not in (a, b))
+                right = 1 if a == b else c_between(*ways(tray.rows[a], tray.rows[b], tray.rows[third]))
+                self.assertEqual(c_of(tray, a, b), ratio(right))
+        self.assertTrue(found["trayone"] > 3 and len(found) > 2, found)
+        self.assertEqual(tray_quarrels(EIGHT), ())
+
+    def test_short_time(self):
+        # All c between any two rows, again and again: at 6 milliseconds each it would be half a minute.
+        trays = [EIGHT] + [tray for tray in eight_rows(86, 12) if settle_tray(tray).word == "trayone"]
+        start = time.perf_counter()
+        for at in range(70):
+            tray = trays[at % len(trays)]
+            for a, b in itertools.product(range(8), repeat=2):
+                c_of(tray, a, b)
+            settle_tray(tray)
+            tray_quarrels(tray)
+        self.assertLess(time.perf_counter() - start, 10)
 
 
 if __name__ == "__main__":

@@ -8,14 +8,22 @@ from farseen.bodies import Body
 from farseen.charts import Chart, never_below, rest
 from farseen.check_axes import shows_axis, shows_turn
 from farseen.check_charts import shows_rank, shows_rest
+from farseen.check_fits import shows_fits, shows_foretold, shows_mix, shows_new_pin
 from farseen.check_kin import shows_kin
+from farseen.check_sayings import shows_judged, shows_signs
 from farseen.check_settled import shows_corner, shows_settle
 from farseen.check_trays import shows_steady, shows_tray
 from farseen.corners import corner
 from farseen.errors import SeenError
+from farseen.fits import fits
+from farseen.judged import enough, judged, stretch_row
 from farseen.kin import Kin, groups, kin
 from farseen.leasts import least_square, least_volume
+from farseen.newpins import chart_with, new_pin
 from farseen.pictures import Picture
+from farseen.points import foretold, mix
+from farseen.sayings import Saying
+from farseen.signs import sign_at, signs
 from farseen.steady import steady, steady_row
 from farseen.stretches import chart_at, turn
 from farseen.tables import rank
@@ -23,6 +31,8 @@ from farseen.trays import Tray
 from farseen.traysettled import c_of, settle_tray, tray_chart_at, tray_quarrels
 from tests.helpers import HUGE, LIMIT, Case, chance, odd_values
 from tests.test_check_trays import CLASSES
+from tests.test_points import WIDE
+from tests.test_settled import CUBE
 
 WRONG = odd_values() + [[0, 1, 2, 9], [0, 1, 1, 2], [0, 1, 2], [3, 3], (0, 0, 0), [[0, 1], [1, True]], [[5] * 7] * 20]
 
@@ -39,7 +49,7 @@ class UnchangedTest(Case):
         before = dict(vars(value))
         raised = 0
         for method in all_methods(value):
-            many = method.__code__.co_argcount - (0 if method.__name__ == "read" else 1)
+            many = method.__code__.co_argcount - (0 if isinstance(vars(type(value))[method.__name__], staticmethod) else 1)
             for wrong in WRONG:
                 passed = [wrong] * many
                 text = repr(passed)
@@ -58,11 +68,14 @@ class UnchangedTest(Case):
         self.check(Body([[LIMIT, 0, 0], [1, 0, 0], [0, 1, 0], [0, 0, 1]]))
         self.check(Tray([[0, 2, 1, 4], [5, 6, 7, 0]]))
         self.check(Chart([[28, 26], [26, 28]], 3))
+        self.check(Saying([(1, (0, 1), (0, 2)), (-3, (2, 0), (1, 1))], "just", 4))
 
     def test_functions(self):
         tray, picture, chart = Tray([[0, 2, 1], [0, 1, 2]]), Picture([(1, 1), (3, 1), (1, 4), (0, 0)]), Chart([[1, 0], [0, 1]])
         album = Album([picture, picture.times(2), picture.mirrored()])
-        before = copy.deepcopy([vars(tray), vars(picture), vars(chart), vars(album)])
+        saying = Saying([(1, (0, 1), (0, 2))], "just", 4)
+        kept = [tray, picture, chart, album, saying, CUBE, WIDE] + list(CUBE.pictures)
+        before = copy.deepcopy([vars(value) for value in kept])
         for wrong in WRONG:
             for call, args in ((tray_chart_at, (tray, wrong)), (c_of, (tray, wrong, 0)), (steady_row, (tray, wrong)),
                                (kin, (picture, wrong)), (rest, (chart, wrong)), (shows_rest, (chart, wrong, wrong)),
@@ -70,6 +83,13 @@ class UnchangedTest(Case):
                                (least_square, (picture, picture, wrong)), (least_volume, (picture, picture, wrong)),
                                (shows_axis, (picture, picture, wrong)), (shows_turn, (picture, picture, wrong, wrong)),
                                (corner, (album, wrong)), (shows_corner, (album, [0, 1, 2], wrong)), (shows_settle, (album, wrong)),
+                               (judged, (album, wrong)), (judged, (CUBE, wrong)), (stretch_row, (album, wrong)), (enough, (CUBE, wrong)),
+                               (enough, (CUBE, [saying, wrong])), (shows_judged, (CUBE, saying, wrong)), (signs, (wrong,)),
+                               (sign_at, (wrong, wrong)), (shows_signs, ([1, 2, 3], wrong)), (fits, (album, wrong)), (fits, (CUBE, wrong)),
+                               (shows_fits, (CUBE, picture, wrong)), (mix, (WIDE, wrong, wrong)), (mix, (WIDE, [3, 2, 1, 0], wrong)),
+                               (shows_mix, (WIDE, [3, 2, 1, 0], 0, wrong)), (foretold, (WIDE, wrong)), (new_pin, (WIDE, wrong)),
+                               (chart_with, (CUBE, wrong)), (shows_foretold, (WIDE, [None] * 5, wrong)),
+                               (shows_new_pin, (WIDE, [None, (0, 0)], wrong)), (Saying, (wrong, "just", 0)), (Saying.longer, (wrong, wrong)),
                                (shows_kin, (picture, picture, wrong)), (shows_tray, (tray, wrong)), (shows_steady, (tray, wrong))):
                 text = repr(wrong)
                 try:
@@ -77,7 +97,26 @@ class UnchangedTest(Case):
                 except SeenError:
                     pass
                 self.assertEqual(repr(wrong), text)
-        self.assertEqual([vars(tray), vars(picture), vars(chart), vars(album)], before)
+        self.assertEqual([vars(value) for value in kept], before)
+
+    def test_changed_afterwards(self):
+        # What was passed may be changed: neither values nor papers told of it change.
+        terms, places, told = [[1, [0, 1], [0, 3]]], [[0, 0], [3, 0], [0, 5], [1, 1], None], [[2, 2], None]
+        saying = Saying(terms, "just", 1)
+        papers = [judged(CUBE.picked([0, 1]), saying), foretold(WIDE, places), new_pin(WIDE, told), mix(WIDE, [0, 1, 2, 3], 4)]
+        before = copy.deepcopy(papers)
+        for lists in (terms, terms[0], terms[0][1], places, places[0], told, told[0]):
+            lists.reverse()
+            lists.append(None)
+        self.assertEqual(papers, before)
+        self.assertEqual(judged(CUBE.picked([0, 1]), saying), papers[0])
+        for paper in papers:
+            parts = [list(part) if isinstance(part, tuple) else part for part in paper.parts]
+            made = type(paper)(*parts)
+            for part in parts:
+                if isinstance(part, list):
+                    part.clear()
+            self.assertEqual(made, paper)
 
 
 class ShortTimeTest(Case):
@@ -110,7 +149,7 @@ class ShortTimeTest(Case):
 
     def test_long_texts(self):
         for text in ("0 " * 9999, "1" * 20000, " " * 20000, "0 0 / " * 3333, "-" * 20000, "; " * 9999):
-            for read in (Picture.read, Album.read, Tray.read):
+            for read in (Picture.read, Album.read, Tray.read, Saying.read):
                 with self.assertRaises(SeenError):
                     self.takes_short(read, text)
 
