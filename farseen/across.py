@@ -21,6 +21,12 @@ def row_across(rows, direction):
     return row_along(rows, (-n, m))
 
 
+def lines_of(one, other, axis):
+    """The row along, and the row across of each picture, by the directions of the axis."""
+    mine, its = axis
+    return (row_along(one.rows, mine), row_across(one.rows, mine), row_across(other.rows, its))
+
+
 def on_step(row, step):
     """What a row has of the pin to which the step goes, less that of the pin from which it comes."""
     start, end = step

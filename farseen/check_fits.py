@@ -31,8 +31,6 @@ def _is_told(value, told):
 
 def _is_fits(told, picture, parts):
     mine, left = parts
-    if isinstance(told, Denial):
-        return False
     if not isinstance(told, One):
         return isinstance(mine, (Free, Stretch)) and _is_told(mine, told) and left is None
     if not isinstance(mine, One) or not is_made(mine) or not isinstance(left, Rest):

@@ -6,7 +6,7 @@ from farseen.check_charts import are_squares
 from farseen.checks import is_ratio
 from farseen.errors import Misfit
 from farseen.exact import is_made
-from farseen.freely import FreeDepths
+from farseen.freely import Form, FreeDepths
 from farseen.judged import Never, Open, Sure, can_be_at, can_be_in, row_of, told_word
 from farseen.papers import Denial
 from farseen.sayings import check_saying
@@ -31,14 +31,14 @@ def _is_c(value):
 
 def _is_place(row, c, told, sign):
     """Whether it is a ratio at which there is this sign, or None if there is none."""
-    if told is None or c is None:
-        return c is None and told is None
+    if told is None:
+        return c is None
     return _is_c(c) and sign_at(row, c) == sign
 
 
 def _are_places_at_0(row, places, told):
-    if told is None or places is None:
-        return places is None and told is None
+    if told is None:
+        return places is None
     if not isinstance(places, tuple) or not all([_is_c(c) for c in places]):
         return False
     return [sign_at(row, c) for c in places] in ([0], [-1, 1])
@@ -62,7 +62,7 @@ def _is_told(album, saying, value):
     if isinstance(told, Denial):
         return False
     if isinstance(told, Free):
-        can_be = FreeDepths(saying, album.pictures[0]).can_be()
+        can_be = FreeDepths(Form(saying, album.pins), album.pictures[0]).can_be()
     elif isinstance(told, One):
         can_be = can_be_in(saying, told.chart)
     else:
@@ -83,15 +83,18 @@ def _are_squares_of(saying, pins, terms):
 
 
 def _is_of(album, chart):
-    """Whether a body that has the album has this chart; if so the album is not none's."""
+    """Whether a body that has the album has this chart; if so the album is not none's.
+
+    A thin picture leaves no Rest of a solid chart.
+    """
     if not isinstance(chart, Chart) or chart.pins != album.pins or not solid(chart):
         return False
-    return all([not picture.is_thin() and isinstance(rest(chart, picture.rows), Rest) for picture in album.pictures])
+    return all([isinstance(rest(chart, picture.rows), Rest) for picture in album.pictures])
 
 
 def _is_open(album, saying, parts):
     one, other = parts
-    if not isinstance(one, tuple) or len(one) not in (1, 2) or not all([_is_of(album, chart) for chart in one]):
+    if not isinstance(one, tuple) or not all([_is_of(album, chart) for chart in one]):
         return False
     if not _is_of(album, other) or saying.holds(other):
         return False

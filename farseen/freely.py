@@ -53,9 +53,9 @@ def _moved_outside(plane, rows, row):
 
 
 def _depths_above(plane, rows, gap, told):
-    """Depths outside of the plane that come above the gap: a row, so many times, over a number; or None.
+    """Depths outside of the plane that come above the gap, where there are such: a row, so many times, over a number.
 
-    What is told is whether the rows, each times -1, never come below 0.
+    What is told is whether the rows, each times -1, never come below 0: if so, the gap is below 0.
     """
     if isinstance(told, Below):
         row, many = _moved_outside(plane, rows, told.row), 1
@@ -63,8 +63,6 @@ def _depths_above(plane, rows, gap, told):
         while many * many * worth <= gap:
             many = 2 * many
         return (row, many, 1)
-    if gap >= 0:
-        return None
     row, over = _unit_outside(plane), 1
     worth = _worth(rows, row)
     while worth <= gap * over * over:
@@ -89,16 +87,13 @@ def _null_rows(rows):
     return found
 
 
-class FreeDepths:
-    """What the depths in a picture come to in the form of a saying, and what they must come to."""
+class Form:
+    """The form of a saying, and whether it comes below 0, and above."""
 
-    def __init__(self, saying, picture):
-        self.plane = picture.rows
-        self.taken = picture.products()
-        form = saying.form(picture.pins)
-        self.rows = form.rows
-        # The sum is above, below, or just its number as the depths come above, below, or just to this.
-        self.gap = (saying.number - sum_in(self.taken, saying.terms)) * form.by
+    def __init__(self, saying, pins):
+        form = saying.form(pins)
+        self.saying = saying
+        self.rows, self.by = form.rows, form.by
         self.up = never_below(Chart(_negative(form.rows), form.by))
         self.down = never_below(form)
 
@@ -109,30 +104,47 @@ class FreeDepths:
                 return told.terms
         return None
 
+
+class FreeDepths:
+    """What the depths in a picture come to in a form, and what they must come to."""
+
+    def __init__(self, form, picture):
+        self.form = form
+        self.plane = picture.rows
+        self.taken = picture.products()
+        # The sum is above, below, or just its number as the depths come above, below, or just to this.
+        self.gap = (form.saying.number - sum_in(self.taken, form.saying.terms)) * form.by
+
     def can_be(self):
         """Whether the sum is below, just, above its number in some chart each."""
-        below = isinstance(self.down, Below) or self.gap > 0
-        above = isinstance(self.up, Below) or self.gap < 0
+        below = isinstance(self.form.down, Below) or self.gap > 0
+        above = isinstance(self.form.up, Below) or self.gap < 0
         return (below, below and above or self.gap == 0 and self.reaches_0(), above)
 
     def reaches_0(self):
         """Whether depths outside of the plane come to 0, if no depths come below 0, or none above."""
-        many = rank(self.rows).many
-        inside = 2 - rank([_columns_of(self.rows, row) for row in self.plane]).many
-        return len(self.rows) - many > inside
+        rows = self.form.rows
+        inside = 2 - rank([_columns_of(rows, row) for row in self.plane]).many
+        return len(rows) - rank(rows).many > inside
 
     def charts(self):
-        """A chart with a sum below, charts that show one just at it, one above it; None for what cannot be."""
-        below, just, above = self.can_be()
-        low = self.chart_with(_depths_above(self.plane, _negative(self.rows), -self.gap, self.down)) if below else None
-        high = self.chart_with(_depths_above(self.plane, self.rows, self.gap, self.up)) if above else None
+        """A chart with a sum below, charts that show one just at it, one above it; None for what cannot be.
+
+        More than one of the three can be.
+        """
+        below, _, above = self.can_be()
+        rows, low, high = self.form.rows, None, None
+        if below:
+            low = self.chart_with(_depths_above(self.plane, _negative(rows), -self.gap, self.form.down))
+        if above:
+            high = self.chart_with(_depths_above(self.plane, rows, self.gap, self.form.up))
         if below and above:
             return (low, (low, high), high)
-        return (low, (self.chart_at_0(),) if just else None, high)
+        return (low, (self.chart_at_0(),), high)
 
     def chart_at_0(self):
         """A chart whose depths come to 0."""
-        row = [row for row in _null_rows(self.rows) if not _is_in_plane(self.plane, row)][0]
+        row = [row for row in _null_rows(self.form.rows) if not _is_in_plane(self.plane, row)][0]
         return self.chart_with((row, 1, 1))
 
     def chart_with(self, depths):

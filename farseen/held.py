@@ -1,6 +1,6 @@
 """The pictures of an album, held against one another."""
 
-from farseen.across import square_of
+from farseen.across import lines_of, square_of
 from farseen.kin import groups
 from farseen.planes import joined_rank
 from farseen.threes import c_of_three, chart_of_three
@@ -45,6 +45,11 @@ class Held:
         if lot not in self.by_three:
             self.by_three[lot] = c_of_three([self.pictures[number] for number in lot], self.axes_of(lot))
         return self.by_three[lot]
+
+    def lines_of(self, lot):
+        """The square of the axis of two pictures that a body has, and the rows along and across."""
+        both = self.axis_of(lot)
+        return (square_of(both[0]), lines_of(self.pictures[lot[0]], self.pictures[lot[1]], both))
 
     def chart_of(self, lot):
         """The one chart of three pictures that a body has."""

@@ -7,7 +7,7 @@ from farseen.amiss import is_whole
 from farseen.charts import product_in
 from farseen.checks import common_divisor, is_list
 from farseen.errors import BadSaying, Impossible, Misfit, TooMany
-from farseen.freely import FreeDepths
+from farseen.freely import Form, FreeDepths
 from farseen.held import Held
 from farseen.lots import grouped
 from farseen.papers import Denial, Paper
@@ -100,8 +100,9 @@ def _paper(saying, can_be, squares):
 
 def judged_freely(saying, picture):
     """The paper on a free album with this picture."""
-    depths = FreeDepths(saying, picture)
-    told = _paper(saying, depths.can_be(), depths.shown())
+    form = Form(saying, picture.pins)
+    depths = FreeDepths(form, picture)
+    told = _paper(saying, depths.can_be(), form.shown())
     return _opened(saying.word, depths.charts()) if told is None else told
 
 
@@ -116,8 +117,7 @@ def judged_along(saying, square, lines):
     high = None if above is None else chart_by(above, square, lines)
     if below is not None and above is not None:
         return _opened(saying.word, (low, (low, high), high))
-    just = None if zero is None else (chart_by(zero[0], square, lines),)
-    return _opened(saying.word, (low, just, high))
+    return _opened(saying.word, (low, (chart_by(zero[0], square, lines),), high))
 
 
 def judged_in(saying, chart):
@@ -205,21 +205,28 @@ def right_steps(album):
     return ()
 
 
-def _word_by(held, lot, saying):
-    """Sure, never or open, by the pictures of this lot alone, no two of them kin."""
+def _made_by(held, lot):
+    """What the charts of these pictures, no two of them kin, are made of: a picture, rows along and across, a chart."""
     if len(lot) == 1:
-        can_be = FreeDepths(saying, held.pictures[lot[0]]).can_be()
-    elif len(lot) == 2:
-        told = along(held.pictures[lot[0]], held.pictures[lot[1]])
-        can_be = can_be_at(row_of(saying, told.square, told.parts[1:]))
+        return held.pictures[lot[0]]
+    return held.lines_of(lot) if len(lot) == 2 else held.chart_of(lot)
+
+
+def _word_by(form, made, many):
+    """Sure, never or open, by what the charts of so many pictures are made of."""
+    if many == 1:
+        can_be = FreeDepths(form, made).can_be()
+    elif many == 2:
+        can_be = can_be_at(row_of(form.saying, made[0], made[1]))
     else:
-        can_be = can_be_in(saying, held.chart_of(lot))
-    return told_word(saying.word, can_be)
+        can_be = can_be_in(form.saying, made)
+    return told_word(form.saying.word, can_be)
 
 
-def _tells_all(held, lot, sayings, words):
-    for saying, word in zip(sayings, words):
-        if _word_by(held, lot, saying) != word:
+def _tells_all(held, lot, forms, words):
+    made = _made_by(held, lot)
+    for form, word in zip(forms, words):
+        if _word_by(form, made, len(lot)) != word:
             return False
     return True
 
@@ -237,9 +244,10 @@ def enough(album, sayings):
         raise Impossible(first_reason(held))
     # Three pictures of unlike planes tell what all tell, and so do fewer if there are fewer planes.
     all_tell = tuple(held.firsts[:MOST_PLANES])
-    words = [_word_by(held, all_tell, saying) for saying in sayings]
+    made, forms = _made_by(held, all_tell), [Form(saying, album.pins) for saying in sayings]
+    words = [_word_by(form, made, len(all_tell)) for form in forms]
     for size in range(1, len(all_tell)):
         for lot in combinations(held.firsts, size):
-            if _tells_all(held, lot, sayings, words):
+            if _tells_all(held, lot, forms, words):
                 return lot
     return all_tell

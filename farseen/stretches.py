@@ -1,6 +1,6 @@
 """Two pictures of unlike planes: their axis, their charts at any c, their depths."""
 
-from farseen.across import chart_by, row_across, row_along, square_of
+from farseen.across import chart_by, lines_of, square_of
 from farseen.axes import Axis, axis
 from farseen.charts import NoRest, Rest, check_chart, rest
 from farseen.checks import common_divisor, lowest, primitive
@@ -40,8 +40,8 @@ def along(one, other):
     told = axis(one, other)
     if not isinstance(told, Axis):
         raise Impossible(told)
-    row, mine = row_along(one.rows, told.mine), row_across(one.rows, told.mine)
-    return Along(square_of(told.mine), row, mine, row_across(other.rows, told.its))
+    row, mine, its = lines_of(one, other, (told.mine, told.its))
+    return Along(square_of(told.mine), row, mine, its)
 
 
 def _along_with(one, other, c):

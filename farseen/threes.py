@@ -3,7 +3,7 @@
 Their axes are told as pairs of directions: of the first and second, the first and third, the second and third picture.
 """
 
-from farseen.across import chart_by, row_across, row_along, square_of
+from farseen.across import chart_by, lines_of, row_across, square_of
 from farseen.checks import lowest, primitive
 from farseen.edges import c_by_sums, sums_to, ways_to
 from farseen.tables import determinant
@@ -77,7 +77,4 @@ def chart_of_three(pictures, axes):
     c = c_of_three(pictures, axes)
     if c is None:
         return None
-    one, other = pictures[:2]
-    mine, its = axes[0]
-    lines = (row_along(one.rows, mine), row_across(one.rows, mine), row_across(other.rows, its))
-    return chart_by(c, square_of(mine), lines)
+    return chart_by(c, square_of(axes[0][0]), lines_of(pictures[0], pictures[1], axes[0]))

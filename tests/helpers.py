@@ -99,7 +99,7 @@ class Case(unittest.TestCase):
 
 def bent_items(items, more=()):
     """The items with one changed, put in, left out, and the end cut off."""
-    bends = list(more) + ["", "0", "-7", "-0", "00", "01", "+1", "-", "--1", "/", ";", ":", "1.0", "1_0", "x", "//", "\n", "1\n",
+    bends = list(more) + ["", "0", "-1", "-7", "-0", "00", "01", "+1", "-", "--1", "/", ";", ":", "1.0", "1_0", "x", "//", "\n", "1\n",
              "\u0661", "\u00b2", "1e3", "0x1", "1" * 60, "1" * 61, "-" + "1" * 61, "1" * 5000,
              "1000000000", "-1000000000", "1000000001", "-1000000001"]
     for at in range(len(items)):

@@ -142,4 +142,4 @@ def not_spread_albums():
     line = Picture([(0, 0), (1, 0), (2, 0), (0, 0), (1, 0)])
     far = Picture([(0, 0), (0, 0), (0, 0), (1, 0), (0, 1)])
     return [Album([flat]), Album([flat, flat.times(2)]), Album([flat, other, line]), Album([flat, far]), Album([line]), Album([flat, line]),
-            Album([flat, other, Picture([(4, 4)] * 5)])]
+            Album([flat, other, Picture([(4, 4)] * 5)]), Album([flat, Picture([(0, 0), (0, 0), (0, 0), (1, 1), (0, 0)])])]

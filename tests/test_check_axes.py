@@ -170,6 +170,9 @@ class ShowsTurnTest(ShowsCase):
                         right = left[pins[0] - 1][pins[0] - 1] < 0 if pins else not any(map(any, left))
                     self.assertIs(shows_turn(ONE, OTHER, chart, Unfit(number, pins)), right)
                     found[(number, len(pins), right)] += 1
+            for number in (2, 3, -1, -2, True, False, None, 1.0):
+                for pins in ((), (1, 1), (1, 2, 1, 2)):
+                    self.assertIs(shows_turn(ONE, OTHER, chart, Unfit(number, pins)), False)
         self.assertTrue(all(found[(number, size, True)] > 0 for number in (0, 1) for size in (0, 2, 4)), found)
 
     def test_bent(self):

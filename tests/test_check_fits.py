@@ -4,6 +4,7 @@ import itertools
 import unittest
 from collections import Counter
 from fractions import Fraction
+from unittest import mock
 
 from farseen.albums import Album
 from farseen.axes import Thin, Unalike, Unequal
@@ -81,7 +82,7 @@ class ShowsFitsTest(ShowsCase):
         for rest in (Rest(ratio_told, [-number for number in row]), Rest((ratio_told[0] * 4, 4), row), Rest(ratio_told, row[:-1]),
                      Rest((1, 1), [3 * number for number in row]), Rest((ratio_told[0] + 1, 1), row)):
             self.assertIs(shows_fits(album, picture, Fits(told.kind, rest)), False)
-        for chart in (Chart([[9, 0, 0], [0, 9, 0], [0, 0, 9]], 2), Chart([[9, 0], [0, 9]]), told.kind.chart.rows, None):
+        for chart in (Chart([[9, 0, 0], [0, 9, 0], [0, 0, 9]], 2), Chart([[9, 0], [0, 9]]), told.kind.chart.rows, None, mock.ANY):
             self.assertIs(shows_fits(album, picture, Fits(One(chart), told.rest)), False)
         # Equal charts made in another way are one chart.
         self.assertIs(shows_fits(album, picture, Fits(One(Chart([[18, 0, 0], [0, 18, 0], [0, 0, 18]], 2)), [ratio_told, row])), False)

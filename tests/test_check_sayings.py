@@ -23,6 +23,7 @@ from tests.test_judged import BENT, FAR_SAYING, LOOSE, SQUARE, whole_albums
 from tests.test_sayings import no_sayings, sum_in_chart
 from tests.test_settled import BAD, CUBE, SIDES, TORN
 from tests.test_signs import NO_ROWS
+from tests.test_stretches import LINE
 
 CLASSES = [(Sure, 1), (Never, 1), (Open, 2), (Squares, 1), (Signs, 3)]
 DEPTHS = [(0, 0, 1), (1, 0, 1), (-2, 1, 3), (2, 1, 1)]
@@ -46,7 +47,8 @@ def some_charts():
     charts += [chart_at(*BENT.pictures, c) for c in ((-12, 13), (0, 1), (5, 13), (12, 13))]
     # Not solid, below 0, of another body, of more pins.
     wrong = [Chart([[9, 0, 0], [0, 9, 0], [0, 0, 0]]), Chart([[9, 0, 0], [0, 9, 0], [0, 0, -1]]), Chart([[8, 0, 0], [0, 9, 0], [0, 0, 9]]),
-             Chart([[10, 0, 0], [0, 9, 0], [0, 0, 1]]), Chart([[10, 0, 0], [0, 10, 0], [0, 0, 1]]), Chart([[9, 0], [0, 9]]),
+             Chart([[10, 0, 0], [0, 9, 0], [0, 0, 1]]), Chart([[10, 0, 0], [0, 10, 0], [0, 0, 1]]), Chart([[10, 0, 0], [0, 9, 0], [0, 0, 0]]), Chart([[9, 0], [0, 9]]),
+             Chart([[9, 0, 0, 0], [0, 9, 0, 0], [0, 0, 9, 9], [0, 0, 9, 9]]),
              Chart([[9, 0, 0, 0], [0, 9, 0, 0], [0, 0, 9, 0], [0, 0, 0, 9]]), Chart([[0] * 3] * 3)]
     return charts + [Chart([[9, 0, 0], [0, 9, 0], [0, 0, 9]])] + wrong
 
@@ -106,6 +108,9 @@ class ShowsJudgedTest(ShowsCase):
                 self.assertIs(shows_judged(album, saying, Open([], charts[1])), False)
         self.assertTrue(all(found[(kind, True)] > 3 for kind in ("free", "stretch", "two")), found)
         self.assertEqual(found[("one", True)], 0)
+        # Of a thin picture no chart is right.
+        for one, other in itertools.product(charts, repeat=2):
+            self.assertIs(shows_judged(Album([LINE]), SQUARE, Open([one], other)), False)
 
     def test_any_squares(self):
         saying = Saying([(1, (0, 3), (0, 3)), (4, (0, 1), (0, 1))], "above", 0)

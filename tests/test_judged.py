@@ -189,8 +189,18 @@ class StretchRowTest(Case):
 
 class StepsTest(Case):
 
+    def upright_pairs(self, seed, many):
+        """Stretches of small numbers: what steps go along, and across in both pictures, is often alike."""
+        dice = chance(seed)
+        while many:
+            rows = [[0] + [dice.choice(numbers) for _ in range(4)] for numbers in ((0, 1), (-2, -1, 1, 2), (-2, -1, 1, 2))]
+            album = Album([Picture(list(zip(rows[0], row))) for row in rows[1:]])
+            if plain_kind(album) == "stretch":
+                many -= 1
+                yield album
+
     def test_steps(self):
-        for album in whole_albums(453, 4):
+        for album in itertools.chain(whole_albums(453, 4), self.upright_pairs(459, 12)):
             if album.pins > 5:
                 continue
             steps = list(itertools.combinations(range(album.pins), 2))

@@ -3,6 +3,7 @@
 import itertools
 import unittest
 from fractions import Fraction
+from unittest import mock
 
 from farseen.charts import Chart
 from farseen.errors import BadChart, BadNumber, BadSaying, BadText, Misfit, TooMany
@@ -97,7 +98,7 @@ class SayingTest(Case):
         for value in NO_STEPS:
             self.fails(BadSaying, ["terms"], Saying, [(1, value, (0, 1)), TERM], "above", 0)
             self.fails(BadSaying, ["terms"], Saying, [TERM, (1, (0, 1), value)], None, None)
-        for value in NO_WORDS:
+        for value in NO_WORDS + [mock.ANY]:
             self.fails(BadSaying, ["word"], Saying, [TERM] * 13, value, None)
         for value in no_integers():
             self.fails(BadNumber, ["number"], Saying, [TERM] * 13, "just", value)
