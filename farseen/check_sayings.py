@@ -5,7 +5,7 @@ from farseen.charts import Chart, Rest, rest, solid
 from farseen.check_charts import are_squares
 from farseen.checks import is_ratio
 from farseen.errors import Misfit
-from farseen.exact import is_made
+from farseen.exact import is_made, is_same
 from farseen.freely import Form, FreeDepths
 from farseen.judged import Never, Open, Sure, can_be_at, can_be_in, row_of, told_word
 from farseen.papers import Denial
@@ -71,7 +71,7 @@ def _is_told(album, saying, value):
     if told_word(saying.word, can_be) != value.word:
         return False
     if not isinstance(told, Free):
-        return value.parts == ((),)
+        return is_same(value.parts, ((),))
     return _are_squares_of(saying, album.pins, value.parts[0])
 
 

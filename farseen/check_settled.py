@@ -2,7 +2,7 @@
 
 from farseen.albums import check_album
 from farseen.axes import Axis, axis
-from farseen.charts import Chart, NoRest, Rest, rest
+from farseen.charts import Chart, NoRest, Rest, rest, solid
 from farseen.check_axes import is_reason
 from farseen.check_charts import shows_rest
 from farseen.checks import first_twice, is_within
@@ -84,19 +84,16 @@ def _are_numbers(album, numbers):
 
 
 def _is_stretch(album, numbers):
-    lots = groups(album)
-    if not _are_numbers(album, numbers) or len(lots) != 2:
-        return False
-    if (numbers[0] in lots[0]) == (numbers[1] in lots[0]):
+    if not _are_numbers(album, numbers) or len(groups(album)) != 2:
         return False
     return isinstance(axis(album.pictures[numbers[0]], album.pictures[numbers[1]]), Axis)
 
 
 def _is_one(album, chart):
-    """Each picture must be one of the chart; with three planes no other chart can be."""
-    if not isinstance(chart, Chart) or chart.pins != album.pins or len(groups(album)) < 3:
+    """Each picture must be one of the solid chart, and a thin one is not; with three planes no other chart can be."""
+    if not isinstance(chart, Chart) or chart.pins != album.pins or len(groups(album)) < 3 or not solid(chart):
         return False
-    return all([not picture.is_thin() and isinstance(rest(chart, picture.rows), Rest) for picture in album.pictures])
+    return all([isinstance(rest(chart, picture.rows), Rest) for picture in album.pictures])
 
 
 def _axes_of(pictures):
@@ -116,8 +113,8 @@ def _is_reason_of_three(album, value):
     axes = _axes_of(pictures)
     if axes is None or c_of_three(pictures, axes) is not None:
         return False
-    right = reason_of_three(pictures, lot, axes)
-    return value.word == right.word and is_same(value.parts, right.parts)
+    # A NoCorner has four parts, a NoTriangle five.
+    return is_same(value.parts, reason_of_three(pictures, lot, axes).parts)
 
 
 def _is_misfits(album, parts):

@@ -131,6 +131,7 @@ def _check_pins(album, sayings):
 
 
 def _settled(album):
+    """What `settle` tells of an album that is not none's, behind its errors."""
     told = settle(album)
     if isinstance(told, Denial):
         raise Impossible(told)
@@ -173,7 +174,6 @@ def _steps(album):
 
 def equal_steps(album):
     """The steps in tuples of those that are surely as long as one another."""
-    check_album(album, "album")
     told, steps = _settled(album), _steps(album)
     if isinstance(told, One):
         keys = [product_in(told.chart.rows, step, step) for step in steps]
@@ -194,7 +194,6 @@ def _products_on(lines, step, its):
 
 def right_steps(album):
     """All pairs of steps, the lesser one first, whose product is surely 0."""
-    check_album(album, "album")
     told = _settled(album)
     pairs = list(combinations(_steps(album), 2))
     if isinstance(told, One):

@@ -4,6 +4,7 @@ import itertools
 import unittest
 from collections import Counter
 from fractions import Fraction
+from unittest import mock
 
 from farseen.albums import Album
 from farseen.bodies import Body
@@ -152,7 +153,10 @@ class ShowsJudgedTest(ShowsCase):
         one, other = free_chart(DEPTHS[0]), free_chart(DEPTHS[2])
         saying = Saying([(1, (0, 1), (0, 1))], "above", 9)
         self.assertIs(shows_judged(LOOSE, saying, Open([other], one)), True)
-        for value in odd_values() + [one.rows, str(one), Body([(0, 0, 0), (3, 0, 0), (0, 3, 0), (0, 0, 1)]), [one], (one,)]:
+        for value in odd_values() + [mock.ANY]:
+            empty = isinstance(value, (list, tuple)) and len(value) == 0
+            self.assertIs(shows_judged(BENT, Saying([(1, (0, 1), (0, 1))], "above", 8), Sure(value)), empty)
+        for value in odd_values() + [mock.ANY, one.rows, str(one), Body([(0, 0, 0), (3, 0, 0), (0, 3, 0), (0, 0, 1)]), [one], (one,)]:
             self.assertIs(shows_judged(LOOSE, saying, Open([other], value)), False)
             self.assertIs(shows_judged(LOOSE, saying, Open([value], one)), False)
             self.assertIs(shows_judged(LOOSE, saying, Open(value, one)), False)

@@ -98,6 +98,20 @@ class ShowsSettleTest(ShowsCase):
         self.assertIs(shows_settle(Album([ONE, LINE]), Stretch(0, 1)), False)
         self.assertIs(shows_settle(Album([ONE, ONE.times(2)]), Stretch(0, 1)), False)
 
+    def test_one_of_flat_charts(self):
+        # All three are in one plane, and each leaves a Rest of a chart that is no body's.
+        rows = [((10, 0, 0), (0, 5, 0)), ((5, 0, 0), (0, 10, 0)), ((6, 8, 0), (-4, 3, 0))]
+        album = Album([Picture([(0, 0)] + list(zip(*two))) for two in rows])
+        chart = Chart([[100, 0, 0], [0, 100, 0], [0, 0, 0]])
+        self.assertEqual([rest(chart, picture.rows).word for picture in album.pictures], ["rest"] * 3)
+        self.assertIs(shows_settle(album, One(chart)), False)
+        self.assertIs(shows_settle(album, One(Chart([[100, 0, 0], [0, 100, 0], [0, 0, 1]]))), False)
+
+    def test_one_of_thin_pictures(self):
+        thin = Album([Picture([(0, 0)] + [(number, 0) for number in row]) for row in ((1, 0, 0), (0, 1, 0), (0, 0, 1))])
+        for chart in (Chart([[1, 0, 0], [0, 1, 0], [0, 0, 1]]), Chart([[2, 0, 0], [0, 2, 0], [0, 0, 2]]), Chart([[1, 1, 1]] * 3)):
+            self.assertIs(shows_settle(thin, One(chart)), False)
+
     def test_reasons_of_one_and_two(self):
         told = Counter()
         more = [Album([ONE, ONE.times(2), LINE]), Album([LINE, PLACE]), Album([ONE, NO_AXIS[2], NO_AXIS[3]])]
@@ -177,6 +191,12 @@ class ShowsSettleTest(ShowsCase):
         for numbers in itertools.product(range(-1, 5), repeat=4):
             right = sorted(numbers[:3]) == [0, 1, 2] and numbers[3] == 3
             self.assertIs(shows_settle(Album(SIDES), Misfits(*numbers, told.chart, told.paper)), right)
+        # Of threes that have no axes, or no chart, none is right, whatever is told as chart.
+        for pictures in (TORN.pictures, BAD.pictures + (ONE,), NO_WAYS.pictures + (SIDES[0],), (ONE, ONE, OTHER, CUBE.pictures[2]), (LINE, ONE, OTHER, ONE)):
+            for lot in itertools.permutations(range(4)):
+                for chart in (CORNER, None, told.chart, Chart([[0] * 3] * 3)):
+                    for paper in (told.paper, NoRest(()), NoRest((1, 1))):
+                        self.assertIs(shows_settle(Album(pictures), Misfits(*lot, chart, paper)), False)
         for chart in odd_values() + [CORNER, told.chart.rows, Chart([[1, 0], [0, 1]])]:
             self.assertIs(shows_settle(Album(SIDES), Misfits(0, 1, 2, 3, chart, told.paper)), False)
 
