@@ -31,7 +31,8 @@ def first_denial(album, lot):
         thin = thin_of(album.pictures[number], number)
         if thin is not None:
             return thin
-    for two in combinations(list(lot), 2):
+    for one, other in combinations(range(3), 2):
+        two = (lot[one], lot[other])
         told = axis_between(album.pictures[two[0]], album.pictures[two[1]], two)
         if not isinstance(told, (Axis, SamePlane)):
             return told

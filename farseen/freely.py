@@ -109,7 +109,7 @@ class FreeDepths:
     """What the depths in a picture come to in a form, and what they must come to."""
 
     def __init__(self, form, picture):
-        self.form = form
+        self.asked = form
         self.plane = picture.rows
         self.taken = picture.products()
         # The sum is above, below, or just its number as the depths come above, below, or just to this.
@@ -117,13 +117,13 @@ class FreeDepths:
 
     def can_be(self):
         """Whether the sum is below, just, above its number in some chart each."""
-        below = isinstance(self.form.down, Below) or self.gap > 0
-        above = isinstance(self.form.up, Below) or self.gap < 0
+        below = isinstance(self.asked.down, Below) or self.gap > 0
+        above = isinstance(self.asked.up, Below) or self.gap < 0
         return (below, below and above or self.gap == 0 and self.reaches_0(), above)
 
     def reaches_0(self):
         """Whether depths outside of the plane come to 0, if no depths come below 0, or none above."""
-        rows = self.form.rows
+        rows = self.asked.rows
         inside = 2 - rank([_columns_of(rows, row) for row in self.plane]).many
         return len(rows) - rank(rows).many > inside
 
@@ -133,18 +133,18 @@ class FreeDepths:
         More than one of the three can be.
         """
         below, _, above = self.can_be()
-        rows, low, high = self.form.rows, None, None
+        rows, low, high = self.asked.rows, None, None
         if below:
-            low = self.chart_with(_depths_above(self.plane, _negative(rows), -self.gap, self.form.down))
+            low = self.chart_with(_depths_above(self.plane, _negative(rows), -self.gap, self.asked.down))
         if above:
-            high = self.chart_with(_depths_above(self.plane, rows, self.gap, self.form.up))
+            high = self.chart_with(_depths_above(self.plane, rows, self.gap, self.asked.up))
         if below and above:
             return (low, (low, high), high)
         return (low, (self.chart_at_0(),), high)
 
     def chart_at_0(self):
         """A chart whose depths come to 0."""
-        row = [row for row in _null_rows(self.form.rows) if not _is_in_plane(self.plane, row)][0]
+        row = [row for row in _null_rows(self.asked.rows) if not _is_in_plane(self.plane, row)][0]
         return self.chart_with((row, 1, 1))
 
     def chart_with(self, depths):

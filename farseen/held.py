@@ -46,7 +46,7 @@ class Held:
             self.by_three[lot] = c_of_three([self.pictures[number] for number in lot], self.axes_of(lot))
         return self.by_three[lot]
 
-    def lines_of(self, lot):
+    def lines_by(self, lot):
         """The square of the axis of two pictures that a body has, and the rows along and across."""
         both = self.axis_of(lot)
         return (square_of(both[0]), lines_of(self.pictures[lot[0]], self.pictures[lot[1]], both))

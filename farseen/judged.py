@@ -194,8 +194,8 @@ def _products_on(lines, step, its):
 
 def right_steps(album):
     """All pairs of steps, the lesser one first, whose product is surely 0."""
-    told = _settled(album)
-    pairs = list(combinations(_steps(album), 2))
+    told, steps = _settled(album), _steps(album)
+    pairs = list(combinations(steps, 2))
     if isinstance(told, One):
         return tuple([pair for pair in pairs if product_in(told.chart.rows, pair[0], pair[1]) == 0])
     if isinstance(told, Stretch):
@@ -208,7 +208,7 @@ def _made_by(held, lot):
     """What the charts of these pictures, no two of them kin, are made of: a picture, rows along and across, a chart."""
     if len(lot) == 1:
         return held.pictures[lot[0]]
-    return held.lines_of(lot) if len(lot) == 2 else held.chart_of(lot)
+    return held.lines_by(lot) if len(lot) == 2 else held.chart_of(lot)
 
 
 def _word_by(form, made, many):
