@@ -1,6 +1,7 @@
-"""Which lots of pictures, or of rows of a tray, are none's while no shorter lot of them is.
+"""Which lots of pictures, of rows of a tray, or of facts, are amiss while no shorter lot of them is.
 
-What is asked here is an object with the first one of each group of kin ones, and `is_amiss` of a lot of these.
+What is asked here is an object with the numbers to try, of kin ones the first one alone, and `is_amiss` of a lot of
+these.
 """
 
 from itertools import combinations
@@ -22,10 +23,10 @@ def _bits_of(lot):
     return bits
 
 
-def lots_amiss(held, most):
-    """The first lots of firsts that are none's, while no shorter lot of them is, ordered, so many at most."""
+def lots_amiss(held, most, longest=4):
+    """The first lots of firsts that are amiss, while no shorter lot of them is, ordered, so many at most."""
     lots, found = [], []
-    for size in range(1, LONGEST + 1):
+    for size in range(1, longest + 1):
         for lot in combinations(held.firsts, size):
             if len(lots) == most:
                 return lots

@@ -69,14 +69,19 @@ def _in_one_plane(one, other, numbers):
     return Unalike(numbers[0], numbers[1], told.pin, told.its)
 
 
+def apart_of(one, other, numbers):
+    """The Apart of two pictures whose rows have the rank four, told by these numbers."""
+    columns = rank(one.rows + other.rows).columns
+    return Apart(numbers[0], numbers[1], [column + 1 for column in columns])
+
+
 def axis_between(one, other, numbers):
     """What `axis` tells of two pictures that are not thin, told by these numbers."""
     many, both = joined_rank(one.rows, other.rows)
     if many == 2:
         return _in_one_plane(one, other, numbers)
     if many == 4:
-        columns = rank(one.rows + other.rows).columns
-        return Apart(numbers[0], numbers[1], [column + 1 for column in columns])
+        return apart_of(one, other, numbers)
     m, n, s, t = both
     if m * m + n * n == s * s + t * t:
         return Axis((m, n), (s, t))

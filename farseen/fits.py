@@ -1,9 +1,8 @@
 """Whether a picture more can be of the body that an album tells of."""
 
 from farseen.albums import check_album
-from farseen.errors import Impossible
 from farseen.papers import Denial, Paper
-from farseen.settled import rest_of, settle
+from farseen.settled import rest_of, settle, settled_paper
 
 
 class Fits(Paper):
@@ -18,8 +17,6 @@ def fits(album, picture):
     """The Fits of a picture, or the denial of the album with it."""
     check_album(album, "album")
     whole = album.with_picture(picture)
-    own = settle(album)
-    if isinstance(own, Denial):
-        raise Impossible(own)
+    settled_paper(album)
     told = settle(whole)
     return told if isinstance(told, Denial) else Fits(told, rest_of(told, picture))

@@ -13,7 +13,7 @@ from farseen.lots import grouped
 from farseen.papers import Denial, Paper
 from farseen.reasons import first_reason
 from farseen.sayings import Saying, check_saying, sum_in
-from farseen.settled import One, Stretch, settle
+from farseen.settled import One, Stretch, settle, settled_paper
 from farseen.signs import signs
 from farseen.stretches import along
 
@@ -130,14 +130,6 @@ def _check_pins(album, sayings):
         raise Misfit("pins")
 
 
-def _settled(album):
-    """What `settle` tells of an album that is not none's, behind its errors."""
-    told = settle(album)
-    if isinstance(told, Denial):
-        raise Impossible(told)
-    return told
-
-
 def _along_of(album, told):
     return along(album.pictures[told.one], album.pictures[told.other])
 
@@ -147,7 +139,7 @@ def judged(album, saying):
     check_album(album, "album")
     check_saying(saying, "saying")
     _check_pins(album, [saying])
-    told = _settled(album)
+    told = settled_paper(album)
     if isinstance(told, One):
         return judged_in(saying, told.chart)
     if isinstance(told, Stretch):
@@ -174,7 +166,7 @@ def _steps(album):
 
 def equal_steps(album):
     """The steps in tuples of those that are surely as long as one another."""
-    told, steps = _settled(album), _steps(album)
+    told, steps = settled_paper(album), _steps(album)
     if isinstance(told, One):
         keys = [product_in(told.chart.rows, step, step) for step in steps]
     elif isinstance(told, Stretch):
@@ -194,7 +186,7 @@ def _products_on(lines, step, its):
 
 def right_steps(album):
     """All pairs of steps, the lesser one first, whose product is surely 0."""
-    told, steps = _settled(album), _steps(album)
+    told, steps = settled_paper(album), _steps(album)
     pairs = list(combinations(steps, 2))
     if isinstance(told, One):
         return tuple([pair for pair in pairs if product_in(told.chart.rows, pair[0], pair[1]) == 0])

@@ -3,6 +3,7 @@
 from farseen.albums import check_album
 from farseen.amiss import is_whole
 from farseen.charts import rest
+from farseen.errors import Impossible
 from farseen.held import Held
 from farseen.papers import Denial, Paper
 from farseen.reasons import first_reason
@@ -43,6 +44,14 @@ def settle(album):
     if len(firsts) == 2:
         return Stretch(firsts[0], firsts[1])
     return One(held.chart_of(tuple(firsts[:3])))
+
+
+def settled_paper(album):
+    """What `settle` tells of an album; Impossible with it for one that is none's."""
+    told = settle(album)
+    if isinstance(told, Denial):
+        raise Impossible(told)
+    return told
 
 
 def kind(album):
