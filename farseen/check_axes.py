@@ -24,7 +24,7 @@ def shows_axis(one, other, value):
     if isinstance(value, Axis):
         return _is_axis(one, other, value.parts)
     if isinstance(value, SamePlane):
-        return _are_of_one_plane(one, other) and _is_hand(one, other, value.parts[0])
+        return are_of_one_plane(one, other) and _is_hand(one, other, value.parts[0])
     if not isinstance(value, Thin) and not is_same(value.parts[:2], (0, 1)):
         return False
     return is_reason((one, other), value)
@@ -74,7 +74,8 @@ def _is_axis(one, other, parts):
     return _many_planes(one, other) == 3
 
 
-def _are_of_one_plane(one, other):
+def are_of_one_plane(one, other):
+    """Whether both pictures, not thin, have one plane."""
     return _many_planes(one, other) == 2
 
 
@@ -91,7 +92,7 @@ def _are_apart(one, other, pins):
 
 
 def _are_unalike(one, other, pins):
-    if not all([is_within(pin, 1, one.pins - 1) for pin in pins]) or not _are_of_one_plane(one, other):
+    if not all([is_within(pin, 1, one.pins - 1) for pin in pins]) or not are_of_one_plane(one, other):
         return False
     pin, its = pins
     return one.products()[pin - 1][its - 1] != other.products()[pin - 1][its - 1]

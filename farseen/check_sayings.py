@@ -62,17 +62,22 @@ def _is_told(album, saying, value):
     if isinstance(told, Denial):
         return False
     if isinstance(told, Free):
-        can_be = FreeDepths(Form(saying, album.pins), album.pictures[0]).can_be()
-    elif isinstance(told, One):
-        can_be = can_be_in(saying, told.chart)
-    else:
-        its = along(album.pictures[told.one], album.pictures[told.other])
-        can_be = can_be_at(row_of(saying, its.square, its.parts[1:]))
-    if told_word(saying.word, can_be) != value.word:
-        return False
-    if not isinstance(told, Free):
-        return is_same(value.parts, ((),))
-    return _are_squares_of(saying, album.pins, value.parts[0])
+        return is_told_freely(saying, album.pictures[0], value)
+    if isinstance(told, One):
+        return is_told_by(saying, can_be_in(saying, told.chart), value)
+    its = along(album.pictures[told.one], album.pictures[told.other])
+    return is_told_by(saying, can_be_at(row_of(saying, its.square, its.parts[1:])), value)
+
+
+def is_told_by(saying, can_be, value):
+    """Whether a Sure or a Never is right by whether the sum can be below, just, above; of an album that is not free."""
+    return told_word(saying.word, can_be) == value.word and is_same(value.parts, ((),))
+
+
+def is_told_freely(saying, picture, value):
+    """Whether a Sure or a Never is right of a free album with this picture."""
+    can_be = FreeDepths(Form(saying, picture.pins), picture).can_be()
+    return told_word(saying.word, can_be) == value.word and _are_squares_of(saying, picture.pins, value.parts[0])
 
 
 def _are_squares_of(saying, pins, terms):
@@ -87,16 +92,30 @@ def _is_of(album, chart):
 
     A thin picture leaves no Rest of a solid chart.
     """
-    if not isinstance(chart, Chart) or chart.pins != album.pins or not solid(chart):
-        return False
-    return all([isinstance(rest(chart, picture.rows), Rest) for picture in album.pictures])
+    return is_solid_of(chart, album.pins) and all([isinstance(rest(chart, picture.rows), Rest)
+                                                   for picture in album.pictures])
+
+
+def is_solid_of(value, pins):
+    """Whether it is a solid chart of so many pins."""
+    return isinstance(value, Chart) and value.pins == pins and solid(value)
+
+
+def charts_told(parts):
+    """What stands for charts in the parts of an Open, none if this is not so."""
+    one, other = parts
+    return one + (other,) if isinstance(one, tuple) else ()
 
 
 def _is_open(album, saying, parts):
+    charts = charts_told(parts)
+    return len(charts) > 0 and all([_is_of(album, chart) for chart in charts]) and opens(saying, parts)
+
+
+def opens(saying, parts):
+    """Whether the first charts keep the saying, or hold it between them, while the last one does not keep it."""
     one, other = parts
-    if not isinstance(one, tuple) or not all([_is_of(album, chart) for chart in one]):
-        return False
-    if not _is_of(album, other) or saying.holds(other):
+    if saying.holds(other):
         return False
     if len(one) == 1:
         return saying.holds(one[0])

@@ -5,9 +5,8 @@ from farseen.axes import Axis, axis
 from farseen.charts import Chart, NoRest, Rest, rest, solid
 from farseen.check_axes import is_reason
 from farseen.check_charts import shows_rest
-from farseen.checks import first_twice, is_within
 from farseen.corners import Corner, Hinge, check_three, corner_of, first_denial
-from farseen.exact import are_pairs, is_made, is_same
+from farseen.exact import are_pairs, are_unlike, is_made, is_same
 from farseen.kin import groups
 from farseen.reasons import Misfits, NoCorner, NoTriangle, reason_of_three
 from farseen.settled import Free, One, Stretch
@@ -76,15 +75,8 @@ def _is_free(album):
     return not album.pictures[0].is_thin() and len(groups(album)) == 1
 
 
-def _are_numbers(album, numbers):
-    """Whether they are unlike numbers of pictures of the album."""
-    if not all([is_within(number, 0, len(album.pictures) - 1) for number in numbers]):
-        return False
-    return first_twice(numbers) is None
-
-
 def _is_stretch(album, numbers):
-    if not _are_numbers(album, numbers) or len(groups(album)) != 2:
+    if not are_unlike(numbers, len(album.pictures)) or len(groups(album)) != 2:
         return False
     return isinstance(axis(album.pictures[numbers[0]], album.pictures[numbers[1]]), Axis)
 
@@ -107,7 +99,7 @@ def _axes_of(pictures):
 
 def _is_reason_of_three(album, value):
     lot = value.parts[:3]
-    if not _are_numbers(album, lot):
+    if not are_unlike(lot, len(album.pictures)):
         return False
     pictures = [album.pictures[number] for number in lot]
     axes = _axes_of(pictures)
@@ -119,7 +111,7 @@ def _is_reason_of_three(album, value):
 
 def _is_misfits(album, parts):
     lot, chart, paper = parts[:4], parts[4], parts[5]
-    if not _are_numbers(album, lot) or not isinstance(chart, Chart) or not isinstance(paper, NoRest):
+    if not are_unlike(lot, len(album.pictures)) or not isinstance(chart, Chart) or not isinstance(paper, NoRest):
         return False
     first = [album.pictures[number] for number in lot[:3]]
     axes = _axes_of(first)

@@ -1,6 +1,6 @@
 """What check functions ask of a paper: who made it, and whether its parts are the right ones."""
 
-from farseen.checks import is_integer
+from farseen.checks import first_twice, is_integer, is_within
 from farseen.papers import Paper
 
 
@@ -41,3 +41,8 @@ def is_pair(value):
 def are_pairs(value, many):
     """Whether it is a tuple of so many pairs of integers."""
     return isinstance(value, tuple) and len(value) == many and all([is_pair(item) for item in value])
+
+
+def are_unlike(values, many):
+    """Whether they are unlike integers from 0 on, below many."""
+    return all([is_within(value, 0, many - 1) for value in values]) and first_twice(values) is None

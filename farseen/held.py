@@ -11,9 +11,13 @@ class Held:
 
     def __init__(self, album):
         self.pictures = album.pictures
-        self.lots = groups(album)
+        self.lots = self.lots_in(album)
         self.firsts = [lot[0] for lot in self.lots]
         self.by_two, self.by_three = {}, {}
+
+    def lots_in(self, album):
+        """The lots of pictures that tell the same."""
+        return groups(album)
 
     def is_amiss(self, lot):
         """Whether these pictures, no two of them kin, are none's, if no shorter lot of them is."""
@@ -27,13 +31,15 @@ class Held:
         return self.c_by(lot[:3]) != self.c_by(lot[:2] + lot[3:])
 
     def axis_of(self, lot):
-        """The directions of the axis of two pictures that are not thin, None if its squares are unlike, or for none."""
+        """The directions of the axis of two pictures that are not thin, None if no body has both."""
         if lot not in self.by_two:
             _, both = joined_rank(self.pictures[lot[0]].rows, self.pictures[lot[1]].rows)
-            self.by_two[lot] = None
-            if both is not None and square_of(both[:2]) == square_of(both[2:]):
-                self.by_two[lot] = (both[:2], both[2:])
+            self.by_two[lot] = None if both is None else self.axis_by(both[:2], both[2:])
         return self.by_two[lot]
+
+    def axis_by(self, mine, its):
+        """Both directions of an axis, None if no body has pictures with these."""
+        return (mine, its) if square_of(mine) == square_of(its) else None
 
     def axes_of(self, lot):
         """The directions of the three axes of three pictures."""
@@ -43,8 +49,12 @@ class Held:
     def c_by(self, lot):
         """The c of the first two of three pictures, None if no body has the three."""
         if lot not in self.by_three:
-            self.by_three[lot] = c_of_three([self.pictures[number] for number in lot], self.axes_of(lot))
+            self.by_three[lot] = self.c_between([self.pictures[number] for number in lot], self.axes_of(lot))
         return self.by_three[lot]
+
+    def c_between(self, pictures, axes):
+        """The c of the first two of three pictures with these axes, None if no body has the three."""
+        return c_of_three(pictures, axes)
 
     def lines_by(self, lot):
         """The square of the axis of two pictures that a body has, and the rows along and across."""

@@ -37,11 +37,38 @@ def determinant_of_axes(axes):
 
 
 def c_of_corner(axes):
-    """The c of the first two pictures of a corner, None if no body has the three."""
+    """The c of the first two pictures of a corner, None if no body has the three.
+
+    The pictures may be enlarged: the squares of both directions of an axis tell how much.
+    """
     (a, its_a), (b, its_b), (c, its_c) = axes
-    number = product_of(its_b, its_c) * square_of(a) - product_of(a, b) * product_of(its_a, c)
-    by = _side_of(a, b) * _side_of(its_a, c)
+    number = (product_of(its_b, its_c) * square_of(its_a) * square_of(b)
+              - product_of(a, b) * product_of(its_a, c) * square_of(its_b))
+    by = _side_of(a, b) * _side_of(its_a, c) * square_of(its_b)
     return lowest(number, by) if abs(number) < abs(by) else None
+
+
+def ring_of(axes):
+    """The scale of first and second picture, times that of second and third, divided by that of first and third.
+
+    It is 1 if the three can be enlarged pictures of one body.
+    """
+    (a, its_a), (b, its_b), (c, its_c) = axes
+    return lowest(square_of(a) * square_of(c) * square_of(its_b), square_of(its_a) * square_of(its_c) * square_of(b))
+
+
+def sized_determinant(axes):
+    """The determinant of the products of the axes, each told at the size of the first picture, a ratio."""
+    (a, its_a), (b, its_b), (c, its_c) = axes
+    ab = product_of(a, b)
+    # All over the squares that the axes have in the second and in the third picture.
+    by_a, by_b = square_of(its_a), square_of(its_b)
+    both = by_a * by_b
+    ac = product_of(its_a, c) * square_of(a) * by_b
+    bc = product_of(its_b, its_c) * square_of(b) * by_a
+    cc = square_of(c) * square_of(a) * by_b
+    rows = ((square_of(a) * both, ab * both, ac), (ab * both, square_of(b) * both, bc), (ac, bc, cc))
+    return lowest(determinant(rows), both * both * both)
 
 
 def ends_of(axes):

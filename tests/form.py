@@ -27,7 +27,7 @@ BARRED_WORDS = set(
     "quit setattr type vars sys typing enum Enum Generic Protocol ABC namedtuple NamedTuple TypedDict dataclass".split())
 BARRED_NAMES = (r"_(wall|pe_|dcw_|enum_|cm_|twin_re_|lay_|law_|stub_|sre|WallAttr).*"
                 r"|_(cold|tuplegetter|outside|record|written_out|member_names)[0-9_]*")
-LIBRARY = {"math": {"gcd", "lcm"}, "itertools": {"combinations", "permutations"}}
+LIBRARY = {"math": {"gcd", "lcm", "isqrt"}, "itertools": {"combinations", "permutations"}}
 ON_THE_SPOT = {"zip", "enumerate", "reversed", "range"}
 TAKERS = {"list", "tuple", "dict", "sorted", "sum", "any", "all", "enumerate", "zip", "min", "max", "len", "reversed"}
 

@@ -45,7 +45,7 @@ class ExamplesTest(unittest.TestCase):
 
     def test_examples(self):
         examples = read_examples()
-        self.assertEqual(len(examples), 95)
+        self.assertEqual(len(examples), 124)
         names, last = {}, None
         for section in dict.fromkeys(section for section, _, _ in examples):
             names.update(names_in(section))
