@@ -115,8 +115,11 @@ def bent_items(items, more=()):
 def fits_item(item, kind):
     """Whether an item is of this kind; what is none of the kinds stands for itself.
 
-    "n" is a number as bounded as places are, "i" any number, "p" a pin from 0 to 6, "w" the word of a saying.
+    "n" is a number as bounded as places are, "i" any number, "p" a pin from 0 to 6, "w" the word of a saying; a tuple
+    is one of its items.
     """
+    if isinstance(kind, tuple):
+        return item in kind
     if kind == "p":
         return item in tuple("0123456")
     if kind == "w":

@@ -37,6 +37,15 @@ FUNCTIONS = {
     "newpins": ["new_pin(album, places)", "chart_with(album, places)"],
     "check_fits": ["shows_fits(album, picture, value)", "shows_mix(album, four, pin, value)",
                    "shows_foretold(album, places, value)", "shows_new_pin(album, places, value)"],
+    "fronts": ["depths(album, picture)", "fronts(album, facts)"],
+    "forced": ["forced_facts(album, facts)", "forcing(album, facts, fact)", "clashes(album, facts)"],
+    "check_fronts": ["shows_depths(album, picture, value)", "shows_fronts(album, facts, value)"],
+    "scales": ["scale(one, other)"],
+    "sizes": ["sizes(album)", "sized_chart_at(album, c)", "judged_sized(album, saying)"],
+    "evened": ["evened(album)"],
+    "check_sizes": ["shows_scale(one, other, value)", "shows_sizes(album, value)", "shows_judged_sized(album, saying, value)",
+                    "shows_evened(album, value)"],
+    "together": ["together(album, other)"],
 }
 CLASSES = {
     "papers": {"Paper": ["__init__(self, word, *parts)", "__eq__(self, other)"], "Denial": ["__eq__(self, other)"]},
@@ -89,6 +98,14 @@ CLASSES = {
                "Loose": ["__init__(self, pins)"], "Amiss": ["__init__(self, pin)"]},
     "newpins": {"Place": ["__init__(self, four, mix, places)"], "Line": ["__init__(self, places, directions)"],
                 "Anywhere": ["__init__(self)"], "NoPlace": ["__init__(self, numbers)"]},
+    "facts": {"Fact": ["__init__(self, picture, near, far)", "__eq__(self, other)", "__str__(self)", "read(text)", "turned(self)"]},
+    "fronts": {"Depths": ["__init__(self, square, row)"], "Hands": ["__init__(self, hands)"], "Ranges": ["__init__(self, plus, minus)"],
+               "Order": ["__init__(self, pins)"], "Against": ["__init__(self, numbers)"]},
+    "scales": {"Scale": ["__init__(self, square)"], "Uneven": ["__init__(self, one, other, pins)"]},
+    "sizes": {"SizedFree": ["__init__(self, squares)"], "SizedStretch": ["__init__(self, squares, one, other)"],
+              "SizedOne": ["__init__(self, squares, chart)"], "SizeRing": ["__init__(self, one, other, third, square)"]},
+    "evened": {"Evened": ["__init__(self, numbers, album)"], "NoEvening": ["__init__(self, number, square)"]},
+    "together": {"Same": ["__init__(self, chart)"], "Maybe": ["__init__(self)"], "Parted": ["__init__(self, reason)"]},
 }
 
 

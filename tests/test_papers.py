@@ -22,6 +22,11 @@ PAPERS = {
     "fits": {"Fits": ["kind", "rest"]},
     "points": {"Mix": ["ratios"], "Foretold": ["places"]},
     "newpins": {"Place": ["four", "mix", "places"], "Line": ["places", "directions"], "Anywhere": []},
+    "fronts": {"Depths": ["square", "row"], "Hands": ["hands"], "Ranges": ["plus", "minus"], "Order": ["pins"]},
+    "scales": {"Scale": ["square"]},
+    "sizes": {"SizedFree": ["squares"], "SizedStretch": ["squares", "one", "other"], "SizedOne": ["squares", "chart"]},
+    "evened": {"Evened": ["numbers", "album"]},
+    "together": {"Same": ["chart"], "Maybe": []},
 }
 DENIALS = {
     "charts": {"Below": ["row"], "NoRest": ["pins"]},
@@ -40,6 +45,11 @@ DENIALS = {
     "judged": {"Never": ["squares"]},
     "points": {"InPlane": ["row"], "Loose": ["pins"], "Amiss": ["pin"]},
     "newpins": {"NoPlace": ["numbers"]},
+    "fronts": {"Against": ["numbers"]},
+    "scales": {"Uneven": ["one", "other", "pins"]},
+    "sizes": {"SizeRing": ["one", "other", "third", "square"]},
+    "evened": {"NoEvening": ["number", "square"]},
+    "together": {"Parted": ["reason"]},
 }
 
 

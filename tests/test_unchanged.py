@@ -9,13 +9,19 @@ from farseen.charts import Chart, never_below, rest
 from farseen.check_axes import shows_axis, shows_turn
 from farseen.check_charts import shows_rank, shows_rest
 from farseen.check_fits import shows_fits, shows_foretold, shows_mix, shows_new_pin
+from farseen.check_fronts import shows_depths, shows_fronts
 from farseen.check_kin import shows_kin
 from farseen.check_sayings import shows_judged, shows_signs
 from farseen.check_settled import shows_corner, shows_settle
+from farseen.check_sizes import shows_evened, shows_judged_sized, shows_scale, shows_sizes
 from farseen.check_trays import shows_steady, shows_tray
 from farseen.corners import corner
 from farseen.errors import SeenError
+from farseen.evened import evened
+from farseen.facts import Fact
 from farseen.fits import fits
+from farseen.forced import clashes, forced_facts, forcing
+from farseen.fronts import depths, fronts
 from farseen.judged import enough, judged, stretch_row
 from farseen.kin import Kin, groups, kin
 from farseen.leasts import least_square, least_volume
@@ -23,10 +29,13 @@ from farseen.newpins import chart_with, new_pin
 from farseen.pictures import Picture
 from farseen.points import foretold, mix
 from farseen.sayings import Saying
+from farseen.scales import scale
 from farseen.signs import sign_at, signs
+from farseen.sizes import judged_sized, sized_chart_at, sizes
 from farseen.steady import steady, steady_row
 from farseen.stretches import chart_at, turn
 from farseen.tables import rank
+from farseen.together import together
 from farseen.trays import Tray
 from farseen.traysettled import c_of, settle_tray, tray_chart_at, tray_quarrels
 from tests.helpers import HUGE, LIMIT, Case, chance, odd_values
@@ -70,11 +79,23 @@ class UnchangedTest(Case):
         self.check(Chart([[28, 26], [26, 28]], 3))
         self.check(Saying([(1, (0, 1), (0, 2)), (-3, (2, 0), (1, 1))], "just", 4))
 
+    def test_facts(self):
+        fact = Fact(1, 2, 3)
+        for value in WRONG:
+            text = repr(value)
+            for call in (Fact.read, lambda one: Fact(one, one, one), lambda one: Fact(0, 1, one), fact.__eq__):
+                try:
+                    call(value)
+                except SeenError:
+                    pass
+            self.assertEqual((vars(fact), repr(value)), ({"picture": 1, "near": 2, "far": 3}, text))
+
     def test_functions(self):
         tray, picture, chart = Tray([[0, 2, 1], [0, 1, 2]]), Picture([(1, 1), (3, 1), (1, 4), (0, 0)]), Chart([[1, 0], [0, 1]])
         album = Album([picture, picture.times(2), picture.mirrored()])
         saying = Saying([(1, (0, 1), (0, 2))], "just", 4)
-        kept = [tray, picture, chart, album, saying, CUBE, WIDE] + list(CUBE.pictures)
+        fact, stretch = Fact(0, 0, 3), CUBE.picked([0, 1])
+        kept = [tray, picture, chart, album, saying, fact, stretch, CUBE, WIDE] + list(CUBE.pictures)
         before = copy.deepcopy([vars(value) for value in kept])
         for wrong in WRONG:
             for call, args in ((tray_chart_at, (tray, wrong)), (c_of, (tray, wrong, 0)), (steady_row, (tray, wrong)),
@@ -90,7 +111,13 @@ class UnchangedTest(Case):
                                (shows_mix, (WIDE, [3, 2, 1, 0], 0, wrong)), (foretold, (WIDE, wrong)), (new_pin, (WIDE, wrong)),
                                (chart_with, (CUBE, wrong)), (shows_foretold, (WIDE, [None] * 5, wrong)),
                                (shows_new_pin, (WIDE, [None, (0, 0)], wrong)), (Saying, (wrong, "just", 0)), (Saying.longer, (wrong, wrong)),
-                               (shows_kin, (picture, picture, wrong)), (shows_tray, (tray, wrong)), (shows_steady, (tray, wrong))):
+                               (shows_kin, (picture, picture, wrong)), (shows_tray, (tray, wrong)), (shows_steady, (tray, wrong)),
+                               (depths, (CUBE, wrong)), (fronts, (CUBE, wrong)), (fronts, (stretch, [fact, wrong])), (forced_facts, (stretch, wrong)),
+                               (forcing, (stretch, [fact], wrong)), (clashes, (stretch, wrong)), (shows_depths, (CUBE, 0, wrong)),
+                               (shows_fronts, (stretch, [fact], wrong)), (scale, (picture, wrong)), (shows_scale, (picture, picture, wrong)),
+                               (sizes, (wrong,)), (sized_chart_at, (stretch, wrong)), (judged_sized, (stretch, wrong)), (evened, (wrong,)),
+                               (shows_sizes, (stretch, wrong)), (shows_judged_sized, (stretch, saying.right((0, 1), (0, 2)), wrong)),
+                               (shows_evened, (stretch, wrong)), (together, (CUBE, wrong)), (together, (wrong, CUBE))):
                 text = repr(wrong)
                 try:
                     call(*args)
@@ -103,9 +130,11 @@ class UnchangedTest(Case):
         # What was passed may be changed: neither values nor papers told of it change.
         terms, places, told = [[1, [0, 1], [0, 3]]], [[0, 0], [3, 0], [0, 5], [1, 1], None], [[2, 2], None]
         saying = Saying(terms, "just", 1)
-        papers = [judged(CUBE.picked([0, 1]), saying), foretold(WIDE, places), new_pin(WIDE, told), mix(WIDE, [0, 1, 2, 3], 4)]
+        facts = [Fact(0, 0, 3), Fact(0, 0, 1)]
+        papers = [judged(CUBE.picked([0, 1]), saying), foretold(WIDE, places), new_pin(WIDE, told), mix(WIDE, [0, 1, 2, 3], 4),
+                  fronts(CUBE.picked([0, 1]), facts), sizes(CUBE), evened(CUBE), together(CUBE, CUBE)]
         before = copy.deepcopy(papers)
-        for lists in (terms, terms[0], terms[0][1], places, places[0], told, told[0]):
+        for lists in (terms, terms[0], terms[0][1], places, places[0], told, told[0], facts):
             lists.reverse()
             lists.append(None)
         self.assertEqual(papers, before)
