@@ -31,8 +31,7 @@ class Picture:
     @staticmethod
     def read(text):
         """The picture whose text this is."""
-        places, _ = places_at(items_of(text), 0, FEWEST_PINS, MOST_PINS, ())
-        return Picture(places)
+        return picture_at(items_of(text), 0)
 
     def products(self):
         """The products of the rows."""
@@ -87,6 +86,12 @@ class Picture:
 
 def _with_room(places):
     check_room(places)
+    return Picture(places)
+
+
+def picture_at(items, at):
+    """The picture that the items write from there to their end."""
+    places, _ = places_at(items, at, FEWEST_PINS, MOST_PINS, ())
     return Picture(places)
 
 

@@ -72,6 +72,12 @@ class Tray:
         return grouped([_either_way(row) for row in self.rows])
 
 
+def tray_row_at(items, at):
+    """The tray of the one row that the items write from there to their end."""
+    row, _ = row_at(items, at, FEWEST_PINS, MOST_PINS, ())
+    return Tray([row])
+
+
 def _either_way(row):
     """The same row for each two rows that are kin."""
     return max(row, tuple([-number for number in row]))

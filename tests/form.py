@@ -260,7 +260,7 @@ class Reader:
                 told = isinstance(one.value, ast.Call) and getattr(one.value.func, "id", "") in ("str", "repr")
                 if not plain and not joined and not told:
                     self.fault("L28", node)
-        if node.name != "__init__":
+        if node.name not in ("__init__", "__call__"):
             if node.name in ("__len__", "__str__", "__bool__") and not isinstance(node.body[-1], ast.Return):
                 self.fault("L28", node)
             for inner in ast.walk(node):

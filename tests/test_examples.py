@@ -23,6 +23,11 @@ def read_examples():
     return found
 
 
+def all_files():
+    """The names of all files of the package."""
+    return sorted(file[:-3] for file in os.listdir(os.path.dirname(errors.__file__)) if file.endswith(".py") and file != "__init__.py")
+
+
 def names_of_errors():
     return {name: value for name, value in vars(errors).items() if isinstance(value, type)}
 
@@ -31,7 +36,12 @@ def names_in(section):
     """What the file of this section defines."""
     module = importlib.import_module("farseen." + section)
     return {name: value for name, value in vars(module).items()
-            if getattr(value, "__module__", None) == module.__name__ and not name.startswith("_")}
+            if name.isupper() or getattr(value, "__module__", None) == module.__name__ and not name.startswith("_")}
+
+
+def told_by(error):
+    """The class and the fields of an error, those of an error within, too."""
+    return (type(error), {name: told_by(value) if isinstance(value, errors.SeenError) else value for name, value in vars(error).items()})
 
 
 class ExamplesTest(unittest.TestCase):
@@ -40,14 +50,13 @@ class ExamplesTest(unittest.TestCase):
         right = eval(told, {**names, **names_of_errors()})
         with self.assertRaises(errors.SeenError) as caught:
             exec(code, names)
-        self.assertIs(type(caught.exception), type(right))
-        self.assertEqual(vars(caught.exception), vars(right))
+        self.assertEqual(told_by(caught.exception), told_by(right))
 
     def test_examples(self):
         examples = read_examples()
-        self.assertEqual(len(examples), 124)
+        self.assertEqual(len(examples), 146)
         names, last = {}, None
-        for section in dict.fromkeys(section for section, _, _ in examples):
+        for section in all_files():
             names.update(names_in(section))
         for section, code, shown in examples:
             if section != last:
