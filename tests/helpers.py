@@ -115,11 +115,15 @@ def bent_items(items, more=()):
 def fits_item(item, kind):
     """Whether an item is of this kind; what is none of the kinds stands for itself.
 
-    "n" is a number as bounded as places are, "i" any number, "p" a pin from 0 to 6, "w" the word of a saying; a tuple
-    is one of its items.
+    "n" is a number as bounded as places are, "i" any number, "u" one from 0 on, "p" a pin from 0 to 6, "w" the word of a
+    saying, "a" a name; a tuple is one of its items.
     """
     if isinstance(kind, tuple):
         return item in kind
+    if kind == "a":
+        return re.fullmatch("[a-z][a-z0-9]{0,11}", item) is not None
+    if kind == "u":
+        return re.fullmatch("0|[1-9][0-9]{0,59}", item) is not None
     if kind == "p":
         return item in tuple("0123456")
     if kind == "w":

@@ -4,6 +4,17 @@ import importlib
 import inspect
 import unittest
 
+from farseen.albums import Album
+from farseen.bodies import Body
+from farseen.charts import Chart
+from farseen.desk import Desk
+from farseen.facts import Fact
+from farseen.papers import Denial, Paper
+from farseen.pictures import Picture
+from farseen.sayings import Saying
+from farseen.shelves import Shelf
+from farseen.trays import Tray
+
 FUNCTIONS = {
     "checks": ["is_integer(value)", "is_within(value, least, most)", "is_name(value)", "are_integers(value)", "is_ratio(value)",
                "is_primitive(value)", "first_twice(values)", "common_divisor(values)", "primitive(values)", "lowest(number, by)"],
@@ -46,6 +57,13 @@ FUNCTIONS = {
     "check_sizes": ["shows_scale(one, other, value)", "shows_sizes(album, value)", "shows_judged_sized(album, saying, value)",
                     "shows_evened(album, value)"],
     "together": ["together(album, other)"],
+    "facings": ["facings(album, other, told=())", "faced(album, other, told=())"],
+    "uprights": ["upright(tray, along)", "standing(album)"],
+    "check_together": ["shows_together(album, other, value)", "shows_faced(album, other, told, value)", "shows_standing(album, value)"],
+    "desk_lines": ["read_line(line)"],
+    "desk_deeds": ["changed(shelf, line)"],
+    "desk_asks": ["answer_of(shelf, line)"],
+    "stories": ["replay(lines)", "parting(one, other)"],
 }
 CLASSES = {
     "papers": {"Paper": ["__init__(self, word, *parts)", "__eq__(self, other)"], "Denial": ["__eq__(self, other)"]},
@@ -106,7 +124,27 @@ CLASSES = {
               "SizedOne": ["__init__(self, squares, chart)"], "SizeRing": ["__init__(self, one, other, third, square)"]},
     "evened": {"Evened": ["__init__(self, numbers, album)"], "NoEvening": ["__init__(self, number, square)"]},
     "together": {"Same": ["__init__(self, chart)"], "Maybe": ["__init__(self)"], "Parted": ["__init__(self, reason)"]},
+    "facings": {"Faces": ["__init__(self, order)"], "NoFacing": ["__init__(self, reasons)"]},
+    "uprights": {"Standing": ["__init__(self, directions, along, across)"], "NoAxis": ["__init__(self)"],
+                 "Leaning": ["__init__(self, one, other, number, pins)"]},
+    "shelves": {"Shelf": ["__init__(self, things=())", "__eq__(self, other)", "thing(self, name)", "facts(self, name)"]},
+    "desk": {
+        "Desk": ["__init__(self)", "__eq__(self, other)", "__len__(self)", "__contains__(self, value)", "__call__(self, line)",
+                 "told(self, *lines)", "tried(self, *lines)", "undo(self)", "redo(self)", "twin(self)"]},
 }
+
+
+ERRORS = ("SeenError BadNumber BadRatio BadTable BadChart BadBody BadPicture BadAlbum BadTray BadSaying BadFact BadPaper BadDesk Misfit Missing NoPin "
+          "NoPicture NoFact NoName Twice Impossible TooMany Nothing BadText BadLine").split(" ")
+
+
+def some_values():
+    """Pairs of a value of each class that keeps something, and the names of its attributes."""
+    picture = Picture([(0, 0), (1, 0), (0, 1), (1, 1)])
+    return [(Chart([[1, 0], [0, 1]]), ["rows", "by", "pins"]), (Body([(0, 0, 0), (1, 0, 0), (0, 1, 0), (0, 0, 1)]), ["places", "pins", "rows"]),
+            (picture, ["places", "pins", "rows"]), (Album([picture]), ["pictures", "rows", "pins"]), (Tray([[0, 1, 2]]), ["places", "rows", "pins"]),
+            (Saying.right((0, 1), (0, 2)), ["terms", "word", "number", "pins"]), (Fact(0, 1, 2), ["picture", "near", "far"]),
+            (Shelf(), ["things", "names"]), (Desk(), ["shelf", "story"]), (Paper("a"), ["word", "parts"]), (Denial("a"), ["word", "parts"])]
 
 
 class InterfaceTest(unittest.TestCase):
@@ -122,6 +160,17 @@ class InterfaceTest(unittest.TestCase):
                 made = getattr(module, told.split("(")[0])
                 self.assertEqual(made.__module__, module.__name__)
                 self.check(told, made)
+
+    def test_attributes(self):
+        for value, names in some_values():
+            self.assertTrue(set(names) <= set(vars(value)), (type(value), names))
+
+    def test_constants_and_errors(self):
+        module = importlib.import_module("farseen.desk_lines")
+        self.assertEqual((type(module.DEEDS), type(module.ASKS), len(module.DEEDS), len(module.ASKS)), (tuple, tuple, 10, 16))
+        module = importlib.import_module("farseen.errors")
+        for name in ERRORS:
+            self.assertEqual(getattr(module, name).__module__, "farseen.errors")
 
     def test_classes(self):
         for file, classes in CLASSES.items():

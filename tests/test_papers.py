@@ -27,6 +27,8 @@ PAPERS = {
     "sizes": {"SizedFree": ["squares"], "SizedStretch": ["squares", "one", "other"], "SizedOne": ["squares", "chart"]},
     "evened": {"Evened": ["numbers", "album"]},
     "together": {"Same": ["chart"], "Maybe": []},
+    "facings": {"Faces": ["order"]},
+    "uprights": {"Standing": ["directions", "along", "across"]},
 }
 DENIALS = {
     "charts": {"Below": ["row"], "NoRest": ["pins"]},
@@ -50,6 +52,8 @@ DENIALS = {
     "sizes": {"SizeRing": ["one", "other", "third", "square"]},
     "evened": {"NoEvening": ["number", "square"]},
     "together": {"Parted": ["reason"]},
+    "facings": {"NoFacing": ["reasons"]},
+    "uprights": {"NoAxis": [], "Leaning": ["one", "other", "number", "pins"]},
 }
 
 

@@ -14,10 +14,16 @@ from farseen.check_kin import shows_kin
 from farseen.check_sayings import shows_judged, shows_signs
 from farseen.check_settled import shows_corner, shows_settle
 from farseen.check_sizes import shows_evened, shows_judged_sized, shows_scale, shows_sizes
+from farseen.check_together import shows_faced, shows_standing, shows_together
 from farseen.check_trays import shows_steady, shows_tray
 from farseen.corners import corner
+from farseen.desk import Desk
+from farseen.desk_asks import answer_of
+from farseen.desk_deeds import changed
+from farseen.desk_lines import ASKS, DEEDS
 from farseen.errors import SeenError
 from farseen.evened import evened
+from farseen.facings import faced, facings
 from farseen.facts import Fact
 from farseen.fits import fits
 from farseen.forced import clashes, forced_facts, forcing
@@ -30,16 +36,20 @@ from farseen.pictures import Picture
 from farseen.points import foretold, mix
 from farseen.sayings import Saying
 from farseen.scales import scale
+from farseen.shelves import Shelf
 from farseen.signs import sign_at, signs
 from farseen.sizes import judged_sized, sized_chart_at, sizes
 from farseen.steady import steady, steady_row
+from farseen.stories import parting, replay
 from farseen.stretches import chart_at, turn
 from farseen.tables import rank
 from farseen.together import together
 from farseen.trays import Tray
 from farseen.traysettled import c_of, settle_tray, tray_chart_at, tray_quarrels
+from farseen.uprights import standing, upright
 from tests.helpers import HUGE, LIMIT, Case, chance, odd_values
 from tests.test_check_trays import CLASSES
+from tests.test_desk import state
 from tests.test_points import WIDE
 from tests.test_settled import CUBE
 
@@ -95,7 +105,8 @@ class UnchangedTest(Case):
         album = Album([picture, picture.times(2), picture.mirrored()])
         saying = Saying([(1, (0, 1), (0, 2))], "just", 4)
         fact, stretch = Fact(0, 0, 3), CUBE.picked([0, 1])
-        kept = [tray, picture, chart, album, saying, fact, stretch, CUBE, WIDE] + list(CUBE.pictures)
+        shelf = Shelf([("a", CUBE, [fact]), ("t", tray, [])])
+        kept = [tray, picture, chart, album, saying, fact, stretch, shelf, CUBE, WIDE] + list(CUBE.pictures)
         before = copy.deepcopy([vars(value) for value in kept])
         for wrong in WRONG:
             for call, args in ((tray_chart_at, (tray, wrong)), (c_of, (tray, wrong, 0)), (steady_row, (tray, wrong)),
@@ -117,7 +128,11 @@ class UnchangedTest(Case):
                                (shows_fronts, (stretch, [fact], wrong)), (scale, (picture, wrong)), (shows_scale, (picture, picture, wrong)),
                                (sizes, (wrong,)), (sized_chart_at, (stretch, wrong)), (judged_sized, (stretch, wrong)), (evened, (wrong,)),
                                (shows_sizes, (stretch, wrong)), (shows_judged_sized, (stretch, saying.right((0, 1), (0, 2)), wrong)),
-                               (shows_evened, (stretch, wrong)), (together, (CUBE, wrong)), (together, (wrong, CUBE))):
+                               (shows_evened, (stretch, wrong)), (together, (CUBE, wrong)), (together, (wrong, CUBE)),
+                               (facings, (CUBE, CUBE, wrong)), (faced, (CUBE, wrong)), (upright, (tray, wrong)), (standing, (wrong,)),
+                               (shows_together, (CUBE, CUBE, wrong)), (shows_faced, (CUBE, CUBE, [(0, 0)], wrong)), (shows_standing, (CUBE, wrong)),
+                               (Shelf, (wrong,)), (Shelf, ([("a", CUBE, wrong)],)), (changed, (shelf, wrong)), (answer_of, (shelf, wrong)),
+                               (replay, (wrong,)), (parting, (Desk(), wrong)), (shelf.thing, (wrong,)), (shelf.facts, (wrong,))):
                 text = repr(wrong)
                 try:
                     call(*args)
@@ -125,6 +140,29 @@ class UnchangedTest(Case):
                     pass
                 self.assertEqual(repr(wrong), text)
         self.assertEqual([vars(value) for value in kept], before)
+
+    def test_desk(self):
+        # A line that is refused, whatever it is, leaves the desk as it was, also what can be done again.
+        desk = Desk()
+        desk.told("tray t 0 2 1 5", "row t 0 1 2 3", "upright a t 1 0 0 2", "front a 0 0 1", "drop t")
+        desk.undo()
+        before = state(desk)
+        lines = [word + rest for word in DEEDS + ASKS for rest in ("", " ", " x", " t x", " a 9 9 9", " a a a", " t 0 0", " a 0 0 0 7", " x y z")]
+        refused = 0
+        for line in WRONG + lines:
+            for told in ((line,), ("drop a", line), (line, "what"), ("drop a", "kind t", line)):
+                twin = desk.twin()
+                for call, args in ((twin, told[-1:]), (twin.tried, told), (twin.told, told)):
+                    try:
+                        call(*args)
+                    except SeenError:
+                        refused += 1
+                        self.assertEqual(state(twin), before)
+                    else:
+                        twin = desk.twin()
+        self.assertGreater(refused, 500)
+        self.assertEqual(state(desk), before)
+        self.assertEqual(desk.redo(), "drop t")
 
     def test_changed_afterwards(self):
         # What was passed may be changed: neither values nor papers told of it change.
