@@ -171,7 +171,6 @@ def _is_told(album, saying, value):
 
 def shows_evened(album, value):
     """Whether it is the Evened, or a NoEvening of any picture whose square is not that of a ratio."""
-    check_album(album, "album")
     told = sizes(album)
     if isinstance(told, Denial):
         return False

@@ -5,7 +5,7 @@ from farseen.checks import primitive
 from farseen.held import Held
 from farseen.lots import grouped
 from farseen.scales import flat_products
-from farseen.threes import are_hinged, c_of_three, ring_of
+from farseen.threes import c_of_three, ring_of
 
 
 def sized_groups(album):
@@ -15,9 +15,8 @@ def sized_groups(album):
 
 def c_with_sizes(pictures, axes):
     """The c of the first two of three pictures with these axes, None if no body has the three with sizes."""
-    if not are_hinged(axes) and ring_of(axes) != (1, 1):
-        return None
-    return c_of_three(pictures, axes)
+    # At a hinge the scales fit by themselves.
+    return c_of_three(pictures, axes) if ring_of(axes) == (1, 1) else None
 
 
 class HeldSizes(Held):

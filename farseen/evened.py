@@ -1,7 +1,7 @@
 """Pictures evened: enlarged so that all have one size."""
 
-from math import gcd, isqrt, lcm
-from farseen.albums import Album, check_album
+from math import isqrt, lcm
+from farseen.albums import Album
 from farseen.errors import Impossible
 from farseen.papers import Denial, Paper
 from farseen.sizes import sizes
@@ -34,16 +34,12 @@ def _numbers_for(roots):
     whole = 1
     for number, _ in roots:
         whole = lcm(whole, number)
-    many = [whole // number * by for number, by in roots]
-    divisor = 0
-    for number in many:
-        divisor = gcd(divisor, number)
-    return [number // divisor for number in many]
+    # The first root is 1, so that no divisor of all these is left.
+    return [whole // number * by for number, by in roots]
 
 
 def evened(album):
     """The Evened of an album, or the NoEvening."""
-    check_album(album, "album")
     told = sizes(album)
     if isinstance(told, Denial):
         raise Impossible(told)

@@ -2,7 +2,7 @@
 
 from math import lcm
 from farseen.across import row_across, row_along
-from farseen.albums import Album, check_album
+from farseen.albums import Album
 from farseen.checks import is_list, primitive
 from farseen.errors import BadNumber, Misfit
 from farseen.kin import groups
@@ -97,6 +97,5 @@ def standing_by(album):
 
 def standing(album):
     """The Standing of an album, the NoAxis, or the Leaning."""
-    check_album(album, "album")
     settled_paper(album)
     return standing_by(album)

@@ -28,7 +28,7 @@ class ShowsDepthsTest(ShowsCase):
         for paper, right in ((Depths((1, 4), [-2, 4, 4]), True), (Depths((1, 1), [1, -2, -2]), False), (Depths((1, 1), [-1, 2, 2]), True),
                              (Depths((1, 9), (-3, 6, 6)), True), (Depths((4, 1), (-1, 2, 2)), False), (Depths((1, 4), (-2, 4, -4)), False),
                              (Depths((1, 1), (-1, 2)), False), (Depths((1, 1), (-1, 2, 2, 0)), False), (Depths((2, 2), (-1, 2, 2)), False),
-                             (Depths((-1, 1), (-1, 2, 2)), False), (Depths((0, 1), (0, 0, 0)), False), (Depths((1, 1), (-1, 2, 3)), False)):
+                             (Depths((-1, 1), (-1, 2, 2)), False), (Depths((-1, 1), (1, -2, -2)), False), (Depths((0, 1), (0, 0, 0)), False), (Depths((1, 1), (-1, 2, 3)), False)):
             self.assertIs(shows_depths(FIRM, 1, paper), right, paper.parts)
         self.assertIs(shows_depths(album=FIRM, picture=0, value=Depths((1, 1), (0, 0, 3))), True)
 

@@ -18,8 +18,9 @@ from farseen.sayings import Saying
 from farseen.scales import Scale, Uneven, scale
 from farseen.settled import Free, One, settle
 from farseen.sizes import SizedFree, SizedOne, SizedStretch, SizeRing, judged_sized, sized_chart_at, sizes
-from tests.helpers import HUGE, ShowsCase, are_plain, chance, is_plain_ratio, is_plain_row, odd_values, plain_determinant, plain_rank, ratio
-from tests.plain_albums import (body_albums, chart_of, direction_sum, gram, hinge_ways, is_corner, is_thin, mixed_albums, paired_albums, rows_of)
+from farseen.threes import chart_of_three
+from tests.helpers import ShowsCase, are_plain, chance, is_plain_ratio, is_plain_row, odd_values, plain_determinant, plain_rank, ratio
+from tests.plain_albums import (body_albums, both_directions, chart_of, direction_sum, gram, hinge_ways, is_corner, is_thin, mixed_albums, paired_albums, rows_of)
 from tests.plain_sayings import is_open
 from tests.plain_sizes import (enlarged_by, in_one_plane, plain_ring, plain_scale, plain_sized_quarrels, sized_albums, sized_chart, sized_planes, sized_squares,
                                sized_table, sized_three_chart, times_all)
@@ -170,6 +171,11 @@ class ShowsSizesTest(ShowsCase):
         for album in (Album([LINE]), Album([PLACE, PLACE])):
             self.assertIs(shows_sizes(album, SizedFree([(1, 1)] * len(album))), False)
             self.assertIs(shows_sizes(album, SizedFree([])), False)
+            self.assertIs(shows_sizes(album, SizedFree(None)), False)
+        # A chart of two of three pictures.
+        for c in ((0, 1), (1, 2), (-2, 3)):
+            chart = sized_chart_at(SIZED.picked([0, 1]), c)
+            self.assertIs(shows_sizes(SIZED, SizedOne(sizes(SIZED).squares, chart)), False)
 
     def is_reason(self, album, value):
         inside = range(len(album))
@@ -292,6 +298,28 @@ class ShowsSizesTest(ShowsCase):
             self.assertIs(shows_sizes(Album(SIDES), Misfits(0, 1, 2, 3, chart, told.paper)), False)
         for paper in odd_values() + [Thin(0, (1, 1)), rest(CORNER, ONE.rows)]:
             self.assertIs(shows_sizes(Album(SIDES), Misfits(0, 1, 2, 3, told.chart, paper)), False)
+
+    def test_misfits_of_no_chart(self):
+        # Of threes that have no axes, no chart, or scales that make a ring, none is right, whatever is told as chart; nor is one with a fourth of no scale.
+        told = sizes(Album(SIDES))
+        lots = [(ONE, WIDE, OTHER, SIDE), (ONE, LINE, OTHER, SIDE), (LINE, ONE, OTHER, SIDE), (ONE, OTHER, LINE, SIDE), (PLACE, ONE, OTHER, ONE), RING.pictures + (ONE.times(2),),
+                RING.pictures + (OTHER,), tuple(SIDES[:2]) + (Picture([(0, 0), (12, 0), (4, 0), (0, 4)]), SIDES[3]), SIZED.pictures + (LINE,), SIZED.pictures + (WIDE,),
+                (ONE, OTHER, SIDE, PLACE), (ONE, ONE, OTHER, SIDE)]
+        for pictures in lots:
+            album = Album(pictures)
+            charts = [CORNER, told.chart, None, Chart([[0] * 3] * 3)]
+            charts += [chart_of(rows) for rows in (sized_three_chart(pictures[:3]) if all(plain_scale(a, b)[0] is Scale and not in_one_plane(a, b) for a, b in
+                                                   itertools.combinations(pictures[:3], 2)) else None,) if rows is not None]
+            if pictures[:3] == RING.pictures:
+                axes = [both_directions(pictures[a], pictures[b]) for a, b in ((0, 1), (0, 2), (1, 2))]
+                charts.append(chart_of_three(pictures[:3], axes))
+                self.assertIsInstance(charts[-1], Chart)
+            for lot in ((0, 1, 2, 3), (1, 0, 2, 3), (2, 1, 0, 3)):
+                for chart in charts:
+                    for paper in [NoRest(()), told.paper] + [NoRest((a, a)) for a in (1, 2, 3)] + [NoRest((1, 2, a, b)) for a, b in ((1, 2), (1, 3), (2, 3))]:
+                        self.assertIs(shows_sizes(album, Misfits(*lot, chart, paper)), False)
+                for paper in (SizeRing(*lot[:3], (1, 1)), SizeRing(*lot[:3], (2, 1)), NoCorner(*lot[:3], (0, 1)), NoCorner(*lot[:3], (-1, 1)), NoTriangle(*lot[:3], None, None)):
+                    self.assertIs(shows_sizes(album, paper), False)
 
     def test_errors(self):
         for paper in (SizedFree([(1, 1)]), None):

@@ -165,7 +165,7 @@ class ShowsStandingTest(ShowsCase):
 
     def test_what_standing_tells(self):
         found = Counter()
-        for album in itertools.chain(standing_albums(841, 60), mixed_albums(842, 15), (album for pair in halves(843, 15) for album in pair)):
+        for album in itertools.chain(standing_albums(841, 20), mixed_albums(842, 4), (album for pair in halves(843, 6) for album in pair)):
             if plain_kind(album) == "none":
                 for value in (NoAxis(), Standing([[1, 0]] * len(album), [0] * album.pins, [[0] * album.pins] * len(album)), settle(album), None,
                               Leaning(0, 1, 2, (1, 2, 3))):

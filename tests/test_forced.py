@@ -74,6 +74,24 @@ class ForcedTest(Case):
                     found["refused"] += 1
         self.assertTrue(all(found[key] > 0 for key in ("refused", ("one", 1), ("stretch", 1), ("stretch", 2), ("free", 1), ("free", 2))), found)
 
+    def test_small_stretches(self):
+        # Each fact and each two by themselves, where the numbers are 0 and 1; also of pins that are apart along the axis alone.
+        unit = Album([Picture([(0, 0), (1, 0), (0, 1), (0, 0)]), Picture([(0, 0), (0, 0), (1, 0), (0, 1)])])
+        flat = Album([Picture([(0, 0), (5, 0), (0, 5), (1, 1)]), Picture([(0, 0), (5, 0), (0, 3), (1, 2)])])
+        found = Counter()
+        for album in (unit, Album([unit.pictures[0], unit.pictures[1].mirrored()]), flat, NARROW):
+            plain = PlainReadings(album)
+            self.assertEqual(plain.kind, "stretch")
+            for two in itertools.combinations_with_replacement(all_facts(album)[::2], 2):
+                if plain.keys_with(two):
+                    right = tuple(fact for fact in all_facts(album) if plain.force(two, fact))
+                    self.assertEqual(forced_facts(album, two), right)
+                    found[len(right)] += 1
+                else:
+                    self.refuses(album, two)
+        self.assertGreater(len(found), 3)
+        self.assertNotIn(Fact(0, 0, 1), forced_facts(flat, [Fact(0, 0, 2)]))
+
     def refuses(self, album, facts):
         for call, args in ((forced_facts, ()), (forcing, (Fact(0, 1, 0),)), (forcing, (facts[0],))):
             with self.assertRaises(Impossible) as caught:

@@ -37,6 +37,8 @@ class DepthsTest(Case):
         self.assertEqual([depths(FIRM, number).parts for number in range(3)],
                          [((9, 1), (0, 0, 1)), ((1, 1), (-1, 2, 2)), ((9, 1), (1, 0, 0))])
         self.assertEqual((depths(album=FIRM, picture=0).square, depths(FIRM, 0).row), ((9, 1), (0, 0, 1)))
+        unit = Album([Picture([(0, 0), (1, 0), (0, 1), (0, 0)]), Picture([(0, 0), (0, 0), (1, 0), (0, 1)]), Picture([(0, 0), (1, 0), (0, 0), (0, 1)])])
+        self.assertEqual([depths(unit, number).row for number in range(3)], [(0, 0, 1), (1, 0, 0), (0, -1, 0)])
 
     def test_bodies(self):
         # The depths that the turned body has, its hand being 1 or -1.
