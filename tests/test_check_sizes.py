@@ -9,6 +9,7 @@ from farseen.albums import Album
 from farseen.axes import Apart, Axis, Thin, Unalike, Unequal
 from farseen.charts import Chart, NoRest, rest
 from farseen.check_sizes import shows_evened, shows_judged_sized, shows_scale, shows_sizes
+from farseen.enlarged import enlarged
 from farseen.errors import BadAlbum, BadPicture, Misfit
 from farseen.evened import Evened, NoEvening, evened
 from farseen.judged import Never, Open, Sure, judged
@@ -298,12 +299,33 @@ class ShowsSizesTest(ShowsCase):
             self.assertIs(shows_sizes(Album(SIDES), Misfits(0, 1, 2, 3, chart, told.paper)), False)
         for paper in odd_values() + [Thin(0, (1, 1)), rest(CORNER, ONE.rows)]:
             self.assertIs(shows_sizes(Album(SIDES), Misfits(0, 1, 2, 3, told.chart, paper)), False)
+        self.check_any_pins(Album(SIDES), told.chart)
+        larger = Album([SIDES[0].times(2), SIDES[1], SIDES[2].turned(1, 1), SIDES[3].times(3)])
+        self.check_any_pins(larger, sizes(larger).chart)
+        # The first picture once more leaves a Rest: no pins show a NoRest.
+        for pins in [(), (1, 1), (2, 2), (3, 3)] + list(itertools.product((1, 2, 3), repeat=4)):
+            self.assertIs(shows_sizes(larger.picked([0, 1, 2]).with_picture(SIDES[0]), Misfits(0, 1, 2, 3, sizes(larger).chart, NoRest(pins))), False)
+
+    def check_any_pins(self, album, chart):
+        found = Counter()
+        square = plain_scale(album.pictures[0], album.pictures[3])[1]
+        taken = gram(rows_of(album.pictures[3]))
+        left = [[Fraction(chart.rows[a][b], chart.by) * square - taken[a][b] for b in range(3)] for a in range(3)]
+        for pins in [(), (1, 2)] + [(a, a) for a in range(0, 5)] + list(itertools.product(range(0, 4), repeat=4)):
+            if len(pins) == 4:
+                a, b, d, e = [pin - 1 for pin in pins]
+                right = min(pins) > 0 and a < b and d < e and left[a][d] * left[b][e] != left[a][e] * left[b][d]
+            else:
+                right = len(pins) == 2 and pins[0] == pins[1] in (1, 2, 3) and left[pins[0] - 1][pins[0] - 1] < 0
+            self.assertIs(shows_sizes(album, Misfits(0, 1, 2, 3, chart, NoRest(pins))), right)
+            found[right] += 1
+        self.assertGreater(min(found[True], found[False]), 1)
 
     def test_misfits_of_no_chart(self):
         # Of threes that have no axes, no chart, or scales that make a ring, none is right, whatever is told as chart; nor is one with a fourth of no scale.
         told = sizes(Album(SIDES))
         lots = [(ONE, WIDE, OTHER, SIDE), (ONE, LINE, OTHER, SIDE), (LINE, ONE, OTHER, SIDE), (ONE, OTHER, LINE, SIDE), (PLACE, ONE, OTHER, ONE), RING.pictures + (ONE.times(2),),
-                RING.pictures + (OTHER,), tuple(SIDES[:2]) + (Picture([(0, 0), (12, 0), (4, 0), (0, 4)]), SIDES[3]), SIZED.pictures + (LINE,), SIZED.pictures + (WIDE,),
+                RING.pictures + (OTHER,), RING.pictures + (SIDES[2],), RING.pictures + RING.pictures[2:], tuple(SIDES[:2]) + (Picture([(0, 0), (12, 0), (4, 0), (0, 4)]), SIDES[3]), SIZED.pictures + (LINE,), SIZED.pictures + (WIDE,),
                 (ONE, OTHER, SIDE, PLACE), (ONE, ONE, OTHER, SIDE)]
         for pictures in lots:
             album = Album(pictures)
@@ -316,7 +338,9 @@ class ShowsSizesTest(ShowsCase):
                 self.assertIsInstance(charts[-1], Chart)
             for lot in ((0, 1, 2, 3), (1, 0, 2, 3), (2, 1, 0, 3)):
                 for chart in charts:
-                    for paper in [NoRest(()), told.paper] + [NoRest((a, a)) for a in (1, 2, 3)] + [NoRest((1, 2, a, b)) for a, b in ((1, 2), (1, 3), (2, 3))]:
+                    papers = [rest(enlarged(chart, scale(pictures[lot[0]], pictures[3]).square), pictures[3].rows)] if chart == charts[-1] and scale(
+                        pictures[lot[0]], pictures[3]) and chart else []
+                    for paper in papers + [NoRest(()), told.paper] + [NoRest((a, a)) for a in (1, 2, 3)] + [NoRest((1, 2, a, b)) for a, b in ((1, 2), (1, 3), (2, 3))]:
                         self.assertIs(shows_sizes(album, Misfits(*lot, chart, paper)), False)
                 for paper in (SizeRing(*lot[:3], (1, 1)), SizeRing(*lot[:3], (2, 1)), NoCorner(*lot[:3], (0, 1)), NoCorner(*lot[:3], (-1, 1)), NoTriangle(*lot[:3], None, None)):
                     self.assertIs(shows_sizes(album, paper), False)
