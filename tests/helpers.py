@@ -98,13 +98,18 @@ class Case(unittest.TestCase):
 
 
 def bent_items(items, more=()):
-    """The items with one changed, put in, left out, and the end cut off."""
+    """The items with one changed, put in, left out, told twice, two exchanged, and the end cut off."""
     bends = list(more) + ["", "0", "-1", "-7", "-0", "00", "01", "+1", "-", "--1", "/", ";", ":", "1.0", "1_0", "x", "//", "\n", "1\n",
              "\u0661", "\u00b2", "1e3", "0x1", "1" * 60, "1" * 61, "-" + "1" * 61, "1" * 5000,
              "1000000000", "-1000000000", "1000000001", "-1000000001"]
     for at in range(len(items)):
         yield items[:at] + items[at + 1:]
         yield items[:at]
+        yield items[:at] + [items[at]] + items[at:]
+        for other in {at - 1, at - 2, at - 3, 0} & set(range(at)):
+            bent = list(items)
+            bent[at], bent[other] = items[other], items[at]
+            yield bent
         for bend in bends:
             yield items[:at] + [bend] + items[at + 1:]
             yield items[:at] + [bend] + items[at:]

@@ -4,6 +4,7 @@ import unittest
 from collections import Counter
 
 from farseen.albums import Album
+from farseen.bodies import Body
 from farseen.desk_asks import answer_of
 from farseen.desk_deeds import changed
 from farseen.desk_lines import ASKS, DEEDS
@@ -13,7 +14,7 @@ from farseen.pictures import Picture
 from farseen.settled import settle
 from farseen.shelves import Shelf
 from farseen.trays import Tray
-from tests.helpers import Case, odd_values
+from tests.helpers import Case, chance, odd_values
 from tests.plain_desk import ALBUMS_ONLY, TRAYS_ONLY, Lines, PlainDesk
 from tests.test_desk_deeds import FIVE, told_by
 from tests.test_desk_lines import LINES
@@ -115,12 +116,20 @@ class AsksTest(Case):
     def test_greatest(self):
         picture = Picture([(999999937, 1), (3, 999999929), (-123456789, 4), (77, 0), (987654321, 5), (6, 7), (123123123, 8)])
         shelf = Shelf([("a", Album([picture, picture.mirrored(), picture.turned()] * 2), [Fact(5, 0, 1)] * 12), ("t", Tray([[999999937 * at % 1000003 for at in range(7)]] * 8), [])])
-        for line in LINES:
-            head = line.split(" ")[0]
-            if head in ASKS:
-                name = "t" if head in TRAYS_ONLY else "a"
-                asked = {"same": "same a a", "is": "is a 1 0 6 0 1 just 0", "fits": f"fits a {picture}", "names": "names"}.get(head, f"{head} {name}")
-                self.takes_short(told_by, answer_of, shelf, asked)
+        self.ask_all(shelf, picture)
+        dice = chance(899)
+        body = Body([[dice.randrange(-10 ** 6, 10 ** 6) for _ in range(3)] for _ in range(7)])
+        album = body.album([(1, 1, 0, 0), (1, 0, 1, 0), (1, 0, 0, 1), (1, 1, 1, 1), (1, -1, 1, 1), (1, 1, 1, 0), (1, 0, 0, 0), (0, 1, 2, 0)])
+        shelf = Shelf([("a", album, [Fact(at % 8, at % 7, (at + 3) % 7) for at in range(12)]), ("t", Tray([[dice.randrange(10 ** 9) for _ in range(7)] for _ in range(8)]), [])])
+        self.ask_all(shelf, album.pictures[0])
+        mixed = Album([Picture([(dice.randrange(10 ** 9), dice.randrange(10 ** 9)) for _ in range(7)]) for _ in range(8)])
+        self.ask_all(Shelf([("a", mixed, []), ("t", Tray([[0] * 7]), [])]), picture)
+
+    def ask_all(self, shelf, picture):
+        for head in ASKS:
+            name = "t" if head in TRAYS_ONLY else "a"
+            asked = {"same": "same a a", "is": "is a 1 0 6 0 1 just 0", "fits": f"fits a {picture}", "names": "names"}.get(head, f"{head} {name}")
+            self.takes_short(told_by, answer_of, shelf, asked)
 
 
 if __name__ == "__main__":

@@ -1,8 +1,10 @@
 """Papers and denials, and all classes of them."""
 
 import importlib
+import os
 import unittest
 
+import farseen
 from farseen.papers import Denial, Paper, fixed
 from tests.helpers import Odd, odd_values
 
@@ -153,6 +155,17 @@ class ClassesTest(unittest.TestCase):
     def test_denials(self):
         for made, name, fields in classes_of(DENIALS):
             self.check_class(made, name, fields, False)
+
+    def test_all_are_there(self):
+        # The tables above name every class of papers of the package, each in its file.
+        own = set()
+        for file in sorted(os.listdir(os.path.dirname(farseen.__file__))):
+            if file.endswith(".py") and file != "__init__.py":
+                module = importlib.import_module("farseen." + file[:-3])
+                own |= {(file[:-3], name) for name, value in vars(module).items()
+                        if isinstance(value, type) and issubclass(value, Paper) and value.__module__ == module.__name__}
+        told = {(file, name) for table in (PAPERS, DENIALS) for file, names in table.items() for name in names}
+        self.assertEqual(own - {("papers", "Paper"), ("papers", "Denial")}, told)
 
     def test_classes_differ(self):
         told = list(classes_of(PAPERS)) + list(classes_of(DENIALS))

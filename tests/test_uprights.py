@@ -113,6 +113,19 @@ class UprightTest(Case):
                     self.assertEqual(own.chart, Chart(right, told.chart.by))
         self.assertTrue(all(found[word] > 5 for word in ("trayfree", "traystretch", "trayone", "traythin", "traynotriangle")), found)
 
+    def test_depending_rows(self):
+        # A row along that is a sum of the tray's rows, or all 0: the album is what its pictures tell, whatever the tray tells.
+        found = Counter()
+        for x, y, z in itertools.product(range(-1, 3), range(-1, 3), (0, 1)):
+            for rows in ([(0, 2, 1, 0), (0, 1, 2, 0)], [(0, 2, 1, 0), (0, 1, 2, 0), (0, 3, 3, 0)], [(0, 2, 1, 0)], [(0, 1, 2, 3), (0, 2, 4, 6)], [(1, 1, 1, 1)]):
+                along = [x * a + y * b + z for a, b in zip(rows[0], rows[-1])]
+                album = upright(Tray(rows), along)
+                self.assertEqual([picture.places for picture in album.pictures], [tuple(zip(along, row)) for row in rows])
+                self.assertEqual(settle(album).word if settle(album) else "none", plain_kind(album))
+                found[(settle_tray(Tray(rows)).word, plain_kind(album))] += 1
+        self.assertTrue(any(tray == "traystretch" and own == "none" for tray, own in found), found)
+        self.assertTrue(all(own == "none" for tray, own in found if tray == "traythin"), found)
+
     def test_errors(self):
         trays = [value for value in odd_values()] + [[[0, 1, 2, 3]], "0 1 2 3", BOX]
         self.fails_for(trays, BadTray, ["tray"], lambda value: upright(value, None))
