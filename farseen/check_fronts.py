@@ -4,7 +4,7 @@ from farseen.albums import check_album
 from farseen.checks import are_integers, is_ratio
 from farseen.errors import Misfit
 from farseen.exact import is_lot, is_made, is_same
-from farseen.fronts import Against, Depths, Hands, Order, Ranges, check_many, check_told_facts, paper_in
+from farseen.fronts import Against, Depths, Hands, Order, Ranges, check_many, check_told_facts, paper_left
 from farseen.guards import check_picture_number
 from farseen.papers import Denial
 from farseen.readings import HeldFacts, OrderReadings, depths_in, readings_of
@@ -47,8 +47,12 @@ def shows_fronts(album, facts, value):
         return _are_against(held, value.parts[0])
     if isinstance(value, Order):
         return _is_order(held, value.parts[0])
-    right = paper_in(held)
-    return isinstance(value, (Hands, Ranges)) and value.word == right.word and is_same(value.parts, right.parts)
+    left = held.readings.left_by(held.lets)
+    return isinstance(value, (Hands, Ranges)) and left is not None and _is_told(value, paper_left(held.readings, left))
+
+
+def _is_told(value, right):
+    return value.word == right.word and is_same(value.parts, right.parts)
 
 
 def _are_against(held, numbers):

@@ -97,16 +97,19 @@ def clashes_in(held, most):
     return lots_amiss(held, most, LONGEST_CLASH)
 
 
+def paper_left(readings, left):
+    """The Hands, the Ranges or the Order of what is left of the readings."""
+    if isinstance(readings, HandReadings):
+        return Hands(left)
+    if isinstance(readings, RangeReadings):
+        return Ranges(left[0], left[1])
+    return Order(left)
+
+
 def paper_in(held):
     """What is left by all facts, or the Against of the first lot that does not hold together."""
     left = held.readings.left_by(held.lets)
-    if left is None:
-        return Against(clashes_in(held, 1)[0])
-    if isinstance(held.readings, HandReadings):
-        return Hands(left)
-    if isinstance(held.readings, RangeReadings):
-        return Ranges(left[0], left[1])
-    return Order(left)
+    return Against(clashes_in(held, 1)[0]) if left is None else paper_left(held.readings, left)
 
 
 def fronts(album, facts):
